@@ -9,6 +9,7 @@ import (
 	"pentrough/canon"
 	"pentrough/pair"
 	"pentrough/prop"
+	"pentrough/sample"
 )
 
 // some: marks of many a class (of 334, 31B, 323, 301 and 302, 345, 3099 they are 1, 216, 220, 230, 240 and 8), values that are put together with one of these, or with one another, what is neither, and what is no value.
@@ -129,52 +130,6 @@ func checkWhatFollows(t *testing.T, l []int) {
 	}
 }
 
-// rows ranges over all lists of no more than n of some values. The list is the same each time, changed.
-func rows(values []int, n int) func(func([]int) bool) {
-	return func(yield func([]int) bool) {
-		var l []int
-		var longer func() bool
-		longer = func() bool {
-			if !yield(l) {
-				return false
-			}
-			if len(l) == n {
-				return true
-			}
-			for _, r := range values {
-				l = append(l, r)
-				if !longer() {
-					return false
-				}
-				l = l[:len(l)-1]
-			}
-			return true
-		}
-		longer()
-	}
-}
-
-// marks tells all marks, by their numbers.
-func marks() []int {
-	var l []int
-	for r := range 0x10000 {
-		if prop.Mark(r) {
-			l = append(l, r)
-		}
-	}
-	return l
-}
-
-// strewn tells n marks, so that each class comes again and again, and no two runs of them are alike.
-func strewn(n int) []int {
-	all := marks()
-	l := make([]int, n)
-	for k := range l {
-		l[k] = all[(k*k+7*k)%len(all)]
-	}
-	return l
-}
-
 // P7.1, P7.2, P7.3
 
 func TestByHand(t *testing.T) {
@@ -235,19 +190,19 @@ func TestExample(t *testing.T) {
 }
 
 func TestAllShortLists(t *testing.T) {
-	for l := range rows(some, 4) {
+	for l := range sample.Lists(some, 4) {
 		check(t, l)
 	}
 }
 
 func TestLongerListsOfFew(t *testing.T) {
-	for l := range rows([]int{'a', 0x302, 0x301, 0x323, 0x345}, 6) {
+	for l := range sample.Lists([]int{'a', 0x302, 0x301, 0x323, 0x345}, 6) {
 		check(t, l)
 	}
-	for l := range rows([]int{'o', 0x31B, 0x323, 0x301}, 6) {
+	for l := range sample.Lists([]int{'o', 0x31B, 0x323, 0x301}, 6) {
 		check(t, l)
 	}
-	for l := range rows([]int{0x1100, 0x1161, 0x11A8, 0x301}, 6) {
+	for l := range sample.Lists([]int{0x1100, 0x1161, 0x11A8, 0x301}, 6) {
 		check(t, l)
 	}
 }
@@ -272,7 +227,7 @@ func TestEveryValueBetweenMarks(t *testing.T) {
 	for _, r := range bad {
 		held(r)
 	}
-	for _, r := range marks() {
+	for _, r := range sample.Marks() {
 		for _, d := range []int{1 << 16, -1 << 16, 1 << 21, 1 << 31, 1 << 32, -1 << 32, 1 << 48, 1 << 62, math.MinInt} {
 			held(r + d)
 		}
@@ -280,7 +235,7 @@ func TestEveryValueBetweenMarks(t *testing.T) {
 }
 
 func TestEveryTwoMarks(t *testing.T) {
-	all := marks()
+	all := sample.Marks()
 	for _, a := range all {
 		for _, b := range all {
 			want := []int{'x', a, b}
@@ -298,7 +253,7 @@ func TestEveryTwoMarks(t *testing.T) {
 // Of one class marks stay as they stood, in rows too that are too long to be put in order one by one.
 func TestLongRows(t *testing.T) {
 	for _, n := range []int{2, 11, 12, 13, 20, 21, 29, 30, 31, 32, 50, 51, 64, 100, 257, 1000, 3000} {
-		l := strewn(n)
+		l := sample.Strewn(n)
 		check(t, l)
 		slices.Reverse(l)
 		check(t, l)
@@ -323,7 +278,7 @@ func TestMarksOfLongestRow(t *testing.T) {
 
 // A great list ends as soon as a small one, for its length.
 func TestGreatLists(t *testing.T) {
-	l := strewn(1 << 16)
+	l := sample.Strewn(1 << 16)
 	ordered := canon.Order(l)
 	if !slices.Equal(ordered, wantOrder(l)) || !canon.Sorted(ordered) || canon.Sorted(l) || canon.Marks(l) != len(l) {
 		t.Error("a row of many marks is not put in order")
@@ -385,7 +340,7 @@ func TestMarksThatAreInPairs(t *testing.T) {
 }
 
 func TestNumbersThatAreNoValues(t *testing.T) {
-	for l := range rows(append([]int{'e', 0x301, 0x323}, bad...), 3) {
+	for l := range sample.Lists(append([]int{'e', 0x301, 0x323}, bad...), 3) {
 		check(t, l)
 	}
 }
@@ -394,7 +349,7 @@ func TestNumbersThatAreNoValues(t *testing.T) {
 func TestAnswersApart(t *testing.T) {
 	calls := []func([]int) []int{canon.Order, canon.Compose}
 	wants := []func([]int) []int{wantOrder, wantCompose}
-	for l := range rows(some[4:9], 4) {
+	for l := range sample.Lists(some[4:9], 4) {
 		for k, call := range calls {
 			in, want := slices.Clone(l), wants[k](l)
 			first, second := call(in), call(in)

@@ -13,6 +13,7 @@ import (
 	"pentrough/nfkc"
 	"pentrough/pair"
 	"pentrough/prop"
+	"pentrough/sample"
 )
 
 // some: marks of many a class, what is put together with them or with one another, what is made of one other and of several, wide and narrow, the Joiner, what is neither, and what is no value.
@@ -128,54 +129,8 @@ func checkOtherOrders(t *testing.T, parts []int) {
 	}
 }
 
-// rows ranges over all lists of no more than n of some values. The list is the same each time, changed.
-func rows(values []int, n int) func(func([]int) bool) {
-	return func(yield func([]int) bool) {
-		l := make([]int, 0, n)
-		var longer func() bool
-		longer = func() bool {
-			if !yield(l) {
-				return false
-			}
-			if len(l) == n {
-				return true
-			}
-			for _, r := range values {
-				l = append(l, r)
-				if !longer() {
-					return false
-				}
-				l = l[:len(l)-1]
-			}
-			return true
-		}
-		longer()
-	}
-}
-
 // row tells n marks alike.
 func row(n int) []int { return slices.Repeat([]int{0x301}, n) }
-
-// marks tells all marks, by their numbers.
-func marks() []int {
-	var l []int
-	for r := range 0x10000 {
-		if prop.Mark(r) {
-			l = append(l, r)
-		}
-	}
-	return l
-}
-
-// strewn tells n marks, so that each class comes again and again.
-func strewn(n int) []int {
-	all := marks()
-	l := make([]int, n)
-	for k := range l {
-		l[k] = all[(k*k+7*k)%len(all)]
-	}
-	return l
-}
 
 // P8.1, P8.2
 
@@ -267,10 +222,11 @@ func TestWhatIsCounted(t *testing.T) {
 
 // All numbers of marks behind many a head, and those at the bounds in three rows, with what stands between these.
 func TestRowsOfAllLengths(t *testing.T) {
-	for n := range 130 {
+	long := sample.Strewn(130)
+	for n := range len(long) {
 		for _, head := range [][]int{nil, {'e'}, {0xE9}, {0x1EAD}, {0x34F}, {0xAC00}, {-1}} {
 			check(t, slices.Concat(head, row(n)))
-			check(t, slices.Concat(head, strewn(n), head))
+			check(t, slices.Concat(head, long[:n], head))
 		}
 	}
 	edges := []int{0, 1, 29, 30, 31, 60, 61}
@@ -278,14 +234,14 @@ func TestRowsOfAllLengths(t *testing.T) {
 		for _, b := range edges {
 			for _, c := range edges {
 				check(t, slices.Concat(row(a), []int{'e'}, row(b), []int{0x34F}, row(c)))
-				check(t, slices.Concat([]int{0xE9}, strewn(a), []int{0xFB01}, strewn(b + c)[b:], []int{0x1100}, strewn(b)))
+				check(t, slices.Concat([]int{0xE9}, long[:a], []int{0xFB01}, long[b:b+c], []int{0x1100}, long[:b]))
 			}
 		}
 	}
 }
 
 func TestAllShortLists(t *testing.T) {
-	for l := range rows(some, 3) {
+	for l := range sample.Lists(some, 3) {
 		check(t, l)
 	}
 }
@@ -294,7 +250,7 @@ func TestLongerListsOfFew(t *testing.T) {
 	for _, few := range [][]int{
 		{0xE2, 0x302, 0x323, 0x301}, {'o', 0x1A1, 0x31B, 0x323, 0x301}, {0x1100, 0x1161, 0x11A8, 0xAC00, 0x301},
 	} {
-		for l := range rows(few, 5) {
+		for l := range sample.Lists(few, 5) {
 			check(t, l)
 		}
 	}
@@ -302,10 +258,11 @@ func TestLongerListsOfFew(t *testing.T) {
 
 // The same short lists behind rows that are all but too long.
 func TestListsBehindRows(t *testing.T) {
-	for l := range rows([]int{'e', 0xE9, 0x301, 0x323, 0x34F}, 3) {
+	long := sample.Strewn(32)
+	for l := range sample.Lists([]int{'e', 0xE9, 0x301, 0x323, 0x34F}, 3) {
 		for n := 27; n < 32; n++ {
 			check(t, slices.Concat([]int{'o'}, row(n), l))
-			check(t, slices.Concat([]int{0x1ED1}, strewn(n), l))
+			check(t, slices.Concat([]int{0x1ED1}, long[:n], l))
 		}
 	}
 }
@@ -361,7 +318,7 @@ func TestEveryPair(t *testing.T) {
 }
 
 func TestNumbersThatAreNoValues(t *testing.T) {
-	for l := range rows(append([]int{0xE9, 0x301, 0x323}, bad...), 3) {
+	for l := range sample.Lists(append([]int{0xE9, 0x301, 0x323}, bad...), 3) {
 		check(t, l)
 	}
 }
@@ -371,7 +328,7 @@ func TestNumbersThatAreNoValues(t *testing.T) {
 // Whichever values have the same parts, one behind the other, have the same form.
 func TestSamePartsSameForm(t *testing.T) {
 	forms := map[string][]int{}
-	for l := range rows([]int{'a', 'A', 0xE2, 0xC5, 0x212B, 0x1EA5, 0x1EAD, 0xFF21, 0x302, 0x301, 0x323, 0x30A}, 4) {
+	for l := range sample.Lists([]int{'a', 'A', 0xE2, 0xC5, 0x212B, 0x1EA5, 0x1EAD, 0xFF21, 0x302, 0x301, 0x323, 0x30A}, 4) {
 		parts, form := fmt.Sprint(nfkc.Made(l)), nfkc.Nfkc(l)
 		if other, told := forms[parts]; told && !slices.Equal(other, form) {
 			t.Fatalf("%#x, made of %s, has the form %#x; what has the same parts has %#x", l, parts, form, other)
@@ -383,7 +340,7 @@ func TestSamePartsSameForm(t *testing.T) {
 // Marks of unlike classes, no more than 30, in any order.
 func TestMarksInAnyOrder(t *testing.T) {
 	var each []int // one of each class
-	for _, r := range marks() {
+	for _, r := range sample.Marks() {
 		if !slices.ContainsFunc(each, func(other int) bool { return prop.Ccc(other) == prop.Ccc(r) }) {
 			each = append(each, r)
 		}
@@ -431,7 +388,7 @@ func TestGreatLists(t *testing.T) {
 
 // Nothing is kept: who changes an answer changes no other one, made before or after it, nor what was handed in; and what stands behind a list is not read, nor changed.
 func TestAnswersApart(t *testing.T) {
-	for l := range rows([]int{'a', 0xE2, 0x301, 0x323}, 4) {
+	for l := range sample.Lists([]int{'a', 0xE2, 0x301, 0x323}, 4) {
 		for _, x := range ones() {
 			long := slices.Concat(l, row(40))
 			in, want := long[:len(l)], x.want(l)
