@@ -17,11 +17,8 @@ var some = []int{
 	'a', 'o', 0xE2, 0x1EA1, 0x301, 0x302, 0x323, 0x31B, 0x334, 0x345, 0x34F, 0x304B, 0x3099, 0x1100, 0x1161, 0x11A8, 0xAC00, 0, -1, 1<<32 + 0x301,
 }
 
-// bad: numbers that are no values, some of which would be marks once they are cut down to fewer bits.
-var bad = []int{
-	-1, -2, -0x301, -0x345, -1<<16 + 0x301, -1<<32 + 0x323, math.MinInt32, math.MinInt, math.MinInt + 0x301, 0x110000, 1<<21 + 0x301, 1<<31 - 1,
-	1<<32 + 0x301, 1<<32 + 0x323, 1 << 62, 1<<62 + 0x345, math.MaxInt - 1, math.MaxInt,
-}
+// bad: numbers that are no values.
+var bad = sample.Bad()
 
 // The marks' classes are asked of prop, and what two values are together of pair; what is made of these is told anew here, as near to the document's words as may be, and as slowly.
 
@@ -211,7 +208,7 @@ func TestLongerListsOfFew(t *testing.T) {
 
 // Every value, and many numbers on both sides, between two marks, the one of the highest class and the one of the lowest: these change places if it is a mark.
 func TestEveryValueBetweenMarks(t *testing.T) {
-	held := func(r int) {
+	for r := range sample.Numbers() {
 		want, sorted, n := []int{0x345, r, 0x334}, true, 1
 		if prop.Mark(r) {
 			want, sorted, n = wantOrder(want), prop.Ccc(r) == 240, 3
@@ -219,17 +216,6 @@ func TestEveryValueBetweenMarks(t *testing.T) {
 		l := []int{0x345, r, 0x334}
 		if got := canon.Order(l); !slices.Equal(got, want) || canon.Sorted(l) != slices.Equal(l, want) || canon.Sorted(l[:2]) != sorted || canon.Marks(l) != n {
 			t.Fatalf("Order(%#x) = %#x; want %#x; Sorted of it and of its first two: %v, %v; Marks: %d", l, got, want, canon.Sorted(l), canon.Sorted(l[:2]), canon.Marks(l))
-		}
-	}
-	for r := -0x1000; r < 0x112000; r++ {
-		held(r)
-	}
-	for _, r := range bad {
-		held(r)
-	}
-	for _, r := range sample.Marks() {
-		for _, d := range []int{1 << 16, -1 << 16, 1 << 21, 1 << 31, 1 << 32, -1 << 32, 1 << 48, 1 << 62, math.MinInt} {
-			held(r + d)
 		}
 	}
 }

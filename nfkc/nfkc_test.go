@@ -22,11 +22,8 @@ var some = []int{
 	0x1100, 0x1161, 0x11A8, 0xAC00, 0xAC01, 0, -1, 1<<32 + 0x301,
 }
 
-// bad: numbers that are no values, some of which would be marks, or made of others, once they are cut down to fewer bits.
-var bad = []int{
-	-1, -2, -0xE9, -0x301, -1<<16 + 0xE9, -1<<32 + 0x301, math.MinInt32, math.MinInt, math.MinInt + 0xE9, 0x110000, 1<<21 + 0x301, 1<<31 - 1,
-	1<<32 + 0xE9, 1<<32 + 0x301, 1<<32 + 0xFB01, 1 << 62, 1<<62 + 0x301, math.MaxInt - 1, math.MaxInt,
-}
+// bad: numbers that are no values.
+var bad = sample.Bad()
 
 // What a value is made of is asked of decomp, marks' classes of prop, and what is in order and put together of canon; what is made of these is told anew here, as near to the document's words as may be, and as slowly.
 
@@ -220,57 +217,22 @@ func TestWhatIsCounted(t *testing.T) {
 	}
 }
 
-// All numbers of marks behind many a head, and those at the bounds in three rows, with what stands between these.
-func TestRowsOfAllLengths(t *testing.T) {
-	long := sample.Strewn(130)
-	for n := range len(long) {
-		for _, head := range [][]int{nil, {'e'}, {0xE9}, {0x1EAD}, {0x34F}, {0xAC00}, {-1}} {
-			check(t, slices.Concat(head, row(n)))
-			check(t, slices.Concat(head, long[:n], head))
-		}
-	}
-	edges := []int{0, 1, 29, 30, 31, 60, 61}
-	for _, a := range edges {
-		for _, b := range edges {
-			for _, c := range edges {
-				check(t, slices.Concat(row(a), []int{'e'}, row(b), []int{0x34F}, row(c)))
-				check(t, slices.Concat([]int{0xE9}, long[:a], []int{0xFB01}, long[b:b+c], []int{0x1100}, long[:b]))
-			}
-		}
-	}
-}
-
 func TestAllShortLists(t *testing.T) {
 	for l := range sample.Lists(some, 3) {
 		check(t, l)
 	}
 }
 
-func TestLongerListsOfFew(t *testing.T) {
-	for _, few := range [][]int{
-		{0xE2, 0x302, 0x323, 0x301}, {'o', 0x1A1, 0x31B, 0x323, 0x301}, {0x1100, 0x1161, 0x11A8, 0xAC00, 0x301},
-	} {
-		for l := range sample.Lists(few, 5) {
-			check(t, l)
-		}
-	}
-}
-
-// The same short lists behind rows that are all but too long.
-func TestListsBehindRows(t *testing.T) {
-	long := sample.Strewn(32)
-	for l := range sample.Lists([]int{'e', 0xE9, 0x301, 0x323, 0x34F}, 3) {
-		for n := 27; n < 32; n++ {
-			check(t, slices.Concat([]int{'o'}, row(n), l))
-			check(t, slices.Concat([]int{0x1ED1}, long[:n], l))
-		}
+func TestHardLists(t *testing.T) {
+	for l := range sample.Hard() {
+		check(t, l)
 	}
 }
 
 // Every value, and many numbers on both sides, alone and behind a row of 30 marks: the Joiner stands ahead of it if it is a mark.
 func TestEveryValue(t *testing.T) {
 	full := row(30)
-	held := func(r int) {
+	for r := range sample.Numbers() {
 		safe := append(full[:30:30], r)
 		if prop.Mark(r) {
 			safe = append(full[:30:30], 0x34F, r)
@@ -283,17 +245,6 @@ func TestEveryValue(t *testing.T) {
 		made, once := nfkc.Made([]int{r}), nfkc.Nfkc([]int{r})
 		if !slices.Equal(made, parts) || !slices.Equal(once, form) || nfkc.Is([]int{r}) != slices.Equal(form, []int{r}) || !nfkc.Is(once) {
 			t.Fatalf("Made(%#x) = %#x, Nfkc %#x; want %#x and %#x; Is of it and of that: %v, %v", r, made, once, parts, form, nfkc.Is([]int{r}), nfkc.Is(once))
-		}
-	}
-	for r := -0x1000; r < 0x112000; r++ {
-		held(r)
-	}
-	for _, r := range bad {
-		held(r)
-	}
-	for r := range 0x3100 {
-		for _, d := range []int{1 << 16, -1 << 16, 1 << 21, 1 << 32, -1 << 32, 1 << 62, math.MinInt} {
-			held(r + d)
 		}
 	}
 }

@@ -1,9 +1,12 @@
 package sample_test
 
 import (
+	"math"
 	"slices"
 	"testing"
 
+	"pentrough/api"
+	"pentrough/canon"
 	"pentrough/prop"
 	"pentrough/sample"
 )
@@ -23,6 +26,73 @@ func TestLists(t *testing.T) {
 		if all := slices.Collect(sample.Lists([]int{7}, n)); len(all) != 1 || len(all[0]) > 0 {
 			t.Errorf("of no more than %d there are %v", n, all)
 		}
+	}
+}
+
+func TestHard(t *testing.T) {
+	all, rows := 0, map[int]bool{}
+	for l := range sample.Hard() {
+		all++
+		rows[canon.Marks(l)] = true
+	}
+	for n := range 130 {
+		if !rows[n] {
+			t.Errorf("no list has a row of %d marks", n)
+		}
+	}
+	for _, l := range [][]int{
+		{0xE2, 0x302, 0x323, 0x301, 0xE2}, slices.Repeat([]int{0x301}, 31), append(slices.Repeat([]int{0x301}, 30), 'e', api.Joiner), append(slices.Repeat([]int{'o', 0x301}, 1), slices.Repeat([]int{0x301}, 30)...),
+	} {
+		if !slices.ContainsFunc(slices.Collect(sample.Hard()), func(other []int) bool { return slices.Equal(l, other) }) {
+			t.Errorf("%#x is no one of the lists", l)
+		}
+	}
+	for end := 1; end < all; end += 97 {
+		n := 0
+		for range sample.Hard() {
+			if n++; n == end {
+				break
+			}
+		}
+	}
+}
+
+func TestNumbers(t *testing.T) {
+	all := map[int]bool{}
+	for r := range sample.Numbers() {
+		all[r] = true
+	}
+	for r := -1; r <= 0x110000; r++ {
+		if !all[r] {
+			t.Fatalf("%#x is no one of the numbers", r)
+		}
+	}
+	for _, r := range append(sample.Bad(), 1<<32+0x309A, math.MinInt+0x345, 1<<16+0x301) {
+		if !all[r] {
+			t.Errorf("%#x is no one of the numbers", r)
+		}
+	}
+	for _, last := range []int{0x301, 1<<32 + 0x301} {
+		for r := range sample.Numbers() {
+			if r == last {
+				break
+			}
+		}
+	}
+}
+
+func TestBad(t *testing.T) {
+	cut := 0
+	for _, r := range sample.Bad() {
+		if 0 <= r && r <= 0x10FFFF {
+			t.Errorf("%#x may be a value", r)
+		}
+		if prop.Mark(int(uint16(r))) {
+			cut++
+		}
+	}
+	if first := sample.Bad(); cut < 5 || len(first) < 15 {
+		t.Errorf("%d of the numbers are marks once they are cut down: %#x", cut, first)
 	}
 }
 
