@@ -126,9 +126,6 @@ func checkOtherOrders(t *testing.T, parts []int) {
 	}
 }
 
-// row tells n marks alike.
-func row(n int) []int { return slices.Repeat([]int{0x301}, n) }
-
 // P8.1, P8.2
 
 func TestByHand(t *testing.T) {
@@ -177,19 +174,19 @@ func TestExamples(t *testing.T) {
 func TestRowsByHand(t *testing.T) {
 	j := []int{0x34F}
 	for _, x := range []struct{ l, safe []int }{
-		{row(29), row(29)},
-		{row(30), row(30)},
-		{row(31), slices.Concat(row(30), j, row(1))},
-		{row(60), slices.Concat(row(30), j, row(30))},
-		{row(61), slices.Concat(row(30), j, row(30), j, row(1))},
-		{row(91), slices.Concat(row(30), j, row(30), j, row(30), j, row(1))},
-		{slices.Concat([]int{'a'}, row(31)), slices.Concat([]int{'a'}, row(30), j, row(1))},
-		{slices.Concat(row(30), []int{'a'}, row(30)), slices.Concat(row(30), []int{'a'}, row(30))},
-		{slices.Concat(row(29), []int{'a'}, row(31), []int{'b'}), slices.Concat(row(29), []int{'a'}, row(30), j, row(1), []int{'b'})},
-		{slices.Concat(row(30), j, row(30)), slices.Concat(row(30), j, row(30))},
-		{slices.Concat(row(30), j, j, row(31)), slices.Concat(row(30), j, j, row(30), j, row(1))},
-		{slices.Concat(row(30), []int{0xE9}, row(30)), slices.Concat(row(30), []int{0xE9}, row(30))},
-		{slices.Concat(row(30), []int{1<<32 + 0x301}, row(30)), slices.Concat(row(30), []int{1<<32 + 0x301}, row(30))},
+		{sample.Row(29), sample.Row(29)},
+		{sample.Row(30), sample.Row(30)},
+		{sample.Row(31), slices.Concat(sample.Row(30), j, sample.Row(1))},
+		{sample.Row(60), slices.Concat(sample.Row(30), j, sample.Row(30))},
+		{sample.Row(61), slices.Concat(sample.Row(30), j, sample.Row(30), j, sample.Row(1))},
+		{sample.Row(91), slices.Concat(sample.Row(30), j, sample.Row(30), j, sample.Row(30), j, sample.Row(1))},
+		{slices.Concat([]int{'a'}, sample.Row(31)), slices.Concat([]int{'a'}, sample.Row(30), j, sample.Row(1))},
+		{slices.Concat(sample.Row(30), []int{'a'}, sample.Row(30)), slices.Concat(sample.Row(30), []int{'a'}, sample.Row(30))},
+		{slices.Concat(sample.Row(29), []int{'a'}, sample.Row(31), []int{'b'}), slices.Concat(sample.Row(29), []int{'a'}, sample.Row(30), j, sample.Row(1), []int{'b'})},
+		{slices.Concat(sample.Row(30), j, sample.Row(30)), slices.Concat(sample.Row(30), j, sample.Row(30))},
+		{slices.Concat(sample.Row(30), j, j, sample.Row(31)), slices.Concat(sample.Row(30), j, j, sample.Row(30), j, sample.Row(1))},
+		{slices.Concat(sample.Row(30), []int{0xE9}, sample.Row(30)), slices.Concat(sample.Row(30), []int{0xE9}, sample.Row(30))},
+		{slices.Concat(sample.Row(30), []int{1<<32 + 0x301}, sample.Row(30)), slices.Concat(sample.Row(30), []int{1<<32 + 0x301}, sample.Row(30))},
 	} {
 		if l := nfkc.Safe(x.l); !slices.Equal(l, x.safe) {
 			t.Errorf("Safe(%#x) = %#x; want %#x", x.l, l, x.safe)
@@ -201,14 +198,14 @@ func TestRowsByHand(t *testing.T) {
 // Marks are counted in what values are made of, as they stood, and not once they are in order or put together.
 func TestWhatIsCounted(t *testing.T) {
 	for _, x := range []struct{ l, nfkc []int }{
-		{slices.Concat([]int{0xE9}, row(29)), slices.Concat([]int{0xE9}, row(29))},
-		{slices.Concat([]int{0xE9}, row(30)), slices.Concat([]int{0xE9}, row(29), []int{0x34F, 0x301})},
-		{slices.Concat([]int{'e'}, row(31)), slices.Concat([]int{0xE9}, row(29), []int{0x34F, 0x301})},
-		{slices.Concat([]int{0x1EAD}, row(29)), slices.Concat([]int{0x1EAD}, row(28), []int{0x34F, 0x301})},
-		{slices.Concat([]int{'a'}, row(30), []int{0x323}), slices.Concat([]int{0xE1}, row(29), []int{0x34F, 0x323})},
-		{slices.Concat([]int{'a'}, row(29), []int{0x323}), slices.Concat([]int{0x1EA1}, row(29))},
-		{slices.Concat([]int{'a', 0x323}, row(30)), slices.Concat([]int{0x1EA1}, row(29), []int{0x34F, 0x301})},
-		{slices.Concat(row(30), []int{'e', 0x301}), slices.Concat(row(30), []int{0xE9})},
+		{slices.Concat([]int{0xE9}, sample.Row(29)), slices.Concat([]int{0xE9}, sample.Row(29))},
+		{slices.Concat([]int{0xE9}, sample.Row(30)), slices.Concat([]int{0xE9}, sample.Row(29), []int{0x34F, 0x301})},
+		{slices.Concat([]int{'e'}, sample.Row(31)), slices.Concat([]int{0xE9}, sample.Row(29), []int{0x34F, 0x301})},
+		{slices.Concat([]int{0x1EAD}, sample.Row(29)), slices.Concat([]int{0x1EAD}, sample.Row(28), []int{0x34F, 0x301})},
+		{slices.Concat([]int{'a'}, sample.Row(30), []int{0x323}), slices.Concat([]int{0xE1}, sample.Row(29), []int{0x34F, 0x323})},
+		{slices.Concat([]int{'a'}, sample.Row(29), []int{0x323}), slices.Concat([]int{0x1EA1}, sample.Row(29))},
+		{slices.Concat([]int{'a', 0x323}, sample.Row(30)), slices.Concat([]int{0x1EA1}, sample.Row(29), []int{0x34F, 0x301})},
+		{slices.Concat(sample.Row(30), []int{'e', 0x301}), slices.Concat(sample.Row(30), []int{0xE9})},
 	} {
 		if l := nfkc.Nfkc(x.l); !slices.Equal(l, x.nfkc) {
 			t.Errorf("Nfkc(%#x) = %#x; want %#x", x.l, l, x.nfkc)
@@ -231,7 +228,7 @@ func TestHardLists(t *testing.T) {
 
 // Every value, and many numbers on both sides, alone and behind a row of 30 marks: the Joiner stands ahead of it if it is a mark.
 func TestEveryValue(t *testing.T) {
-	full := row(30)
+	full := sample.Row(30)
 	for r := range sample.Numbers() {
 		safe := append(full[:30:30], r)
 		if prop.Mark(r) {
@@ -318,8 +315,8 @@ func TestMarksInAnyOrder(t *testing.T) {
 
 // Of more than 30 marks each stays on its side of the Joiner.
 func TestOrderBeyondBound(t *testing.T) {
-	first := slices.Concat([]int{'q', 0x323}, row(30))
-	last := slices.Concat([]int{'q'}, row(30), []int{0x323})
+	first := slices.Concat([]int{'q', 0x323}, sample.Row(30))
+	last := slices.Concat([]int{'q'}, sample.Row(30), []int{0x323})
 	if slices.Equal(nfkc.Nfkc(first), nfkc.Nfkc(last)) {
 		t.Error("31 marks in another order have the same form")
 	}
@@ -328,8 +325,8 @@ func TestOrderBeyondBound(t *testing.T) {
 // A great list ends as soon as a small one, for its length.
 func TestGreatLists(t *testing.T) {
 	const n = 1 << 18
-	safe := nfkc.Safe(row(n))
-	if len(safe) != n+(n-1)/30 || canon.Marks(safe) != 30 || !nfkc.Is(safe) || !slices.Equal(nfkc.Nfkc(row(n)), safe) {
+	safe := nfkc.Safe(sample.Row(n))
+	if len(safe) != n+(n-1)/30 || canon.Marks(safe) != 30 || !nfkc.Is(safe) || !slices.Equal(nfkc.Nfkc(sample.Row(n)), safe) {
 		t.Errorf("of %d marks came %d values, with %d marks in a row", n, len(safe), canon.Marks(safe))
 	}
 	if l := nfkc.Nfkc(slices.Repeat([]int{0xE2, 0x323, 0xFB01}, n)); !slices.Equal(l, slices.Repeat([]int{0x1EAD, 'f', 'i'}, n)) {
@@ -341,12 +338,12 @@ func TestGreatLists(t *testing.T) {
 func TestAnswersApart(t *testing.T) {
 	for l := range sample.Lists([]int{'a', 0xE2, 0x301, 0x323}, 4) {
 		for _, x := range ones() {
-			long := slices.Concat(l, row(40))
+			long := slices.Concat(l, sample.Row(40))
 			in, want := long[:len(l)], x.want(l)
 			first, second := x.call(in), x.call(in)
 			clear(first[:cap(first)])
 			third := x.call(in)
-			if !slices.Equal(long, slices.Concat(l, row(40))) || !slices.Equal(second, want) || !slices.Equal(third, want) {
+			if !slices.Equal(long, slices.Concat(l, sample.Row(40))) || !slices.Equal(second, want) || !slices.Equal(third, want) {
 				t.Fatalf("once an answer of %s(%#x) was changed, others are %#x and %#x, and it was handed in %#x", x.name, l, second, third, long)
 			}
 		}
@@ -355,13 +352,13 @@ func TestAnswersApart(t *testing.T) {
 
 // Nothing is kept: the calls of several that go at once are as those of one, and the wrong ones leave nothing behind.
 func TestCallsAtOnce(t *testing.T) {
-	l := slices.Concat([]int{0xE2, 0x323}, row(30), []int{0xFB01})
+	l := slices.Concat([]int{0xE2, 0x323}, sample.Row(30), []int{0xFB01})
 	want := wantNfkc(l)
 	var all sync.WaitGroup
 	for range 8 {
 		all.Go(func() {
 			for _, r := range bad {
-				nfkc.Nfkc(append(row(30), r, 0x345, r))
+				nfkc.Nfkc(append(sample.Row(30), r, 0x345, r))
 				if got := nfkc.Nfkc(l); !slices.Equal(got, want) || nfkc.Is(l) || !nfkc.Is(got) {
 					t.Errorf("behind %#x, of %#x came %#x; want %#x", r, l, got, want)
 					return

@@ -162,9 +162,6 @@ func checkAll(t *testing.T, l []int) {
 	}
 }
 
-// row tells n marks alike.
-func row(n int) []int { return slices.Repeat([]int{0x301}, n) }
-
 // behind tells values with a head ahead of them.
 func behind(head int, l ...int) []int { return append([]int{head}, l...) }
 
@@ -179,10 +176,10 @@ func TestSaneByHand(t *testing.T) {
 		{[]int{'a', 0x301}, true}, {[]int{0x34F, 0x301}, true}, {[]int{math.MinInt, 0x301}, true}, {[]int{0x323, 0x301}, true}, {[]int{'a', 0x323, 0x301}, true}, {[]int{0x301, 0x301}, true}, {[]int{'a', 0x301, 0x302}, true}, {[]int{'a', 0x302, 0x301}, true},
 		{[]int{'a', 'b'}, false}, {[]int{0x301, 'a'}, false}, {[]int{0x301, 0x34F}, false}, {[]int{'a', 0x301, 'b'}, false}, {[]int{0x1100, 0x1161}, false}, {[]int{'a', -1}, false}, {[]int{0x301, 1<<32 + 0x301}, false}, {[]int{-1, -1}, false},
 		{[]int{0x301, 0x323}, false}, {[]int{'a', 0x301, 0x323}, false}, {[]int{'a', 0x345, 0x301}, false}, {[]int{'a', 0x323, 0x301, 0x323}, false}, {[]int{'a', 0x323, 0x301, 'b', 0x301}, false},
-		{row(29), true}, {row(30), true}, {row(31), false}, {row(32), false}, {row(1 << 16), false},
-		{behind('a', row(29)...), true}, {behind('a', row(30)...), true}, {behind('a', row(31)...), false}, {behind(-1, row(30)...), true}, {behind(0xE9, row(31)...), false},
-		{slices.Concat([]int{'a'}, row(29), []int{'b'}), false}, {slices.Concat([]int{'a'}, row(29), []int{0x323}), false}, {slices.Concat([]int{0x323}, row(29)), true}, {slices.Concat([]int{0x323}, row(30)), false},
-		{slices.Concat(row(15), []int{'a'}, row(15)), false}, {slices.Repeat([]int{'a'}, 1<<16), false},
+		{sample.Row(29), true}, {sample.Row(30), true}, {sample.Row(31), false}, {sample.Row(32), false}, {sample.Row(1 << 16), false},
+		{behind('a', sample.Row(29)...), true}, {behind('a', sample.Row(30)...), true}, {behind('a', sample.Row(31)...), false}, {behind(-1, sample.Row(30)...), true}, {behind(0xE9, sample.Row(31)...), false},
+		{slices.Concat([]int{'a'}, sample.Row(29), []int{'b'}), false}, {slices.Concat([]int{'a'}, sample.Row(29), []int{0x323}), false}, {slices.Concat([]int{0x323}, sample.Row(29)), true}, {slices.Concat([]int{0x323}, sample.Row(30)), false},
+		{slices.Concat(sample.Row(15), []int{'a'}, sample.Row(15)), false}, {slices.Repeat([]int{'a'}, 1<<16), false},
 	} {
 		if sane := norm.Sane(norm.State{L: x.l}); sane != x.sane {
 			t.Errorf("Sane(%#x) = %v", x.l, sane)
@@ -197,7 +194,7 @@ func TestSaneByHand(t *testing.T) {
 func TestInsaneStates(t *testing.T) {
 	for _, l := range [][]int{
 		{'a', 'b'}, {0x301, 'e'}, {'e', 0x301, 0x323}, {'e', 0x301, 'e'}, {0x301, 0x323}, {'e', -1}, {0x1100, 0x1161}, {0x1100, 0x1161, 0x11A8}, {0xAC00, 0x11A8},
-		row(31), behind('e', row(31)...), row(1 << 12), behind('e', 0x345, 0x301), {0x34F, 0x34F},
+		sample.Row(31), behind('e', sample.Row(31)...), sample.Row(1 << 12), behind('e', 0x345, 0x301), {0x34F, 0x34F},
 	} {
 		for _, r := range slices.Concat(some, bad) {
 			s, told := norm.Feed(norm.State{L: l}, r)
@@ -298,23 +295,23 @@ func TestFeedBehindFullRow(t *testing.T) {
 		left []int
 		told []int
 	}{
-		{row(29), 0x301, row(30), nil},
-		{row(29), 0x323, behind(0x323, row(29)...), nil},
-		{row(30), 0x301, []int{0x34F, 0x301}, row(30)},
-		{row(30), 0x323, []int{0x34F, 0x323}, row(30)},
-		{row(30), 'e', []int{'e'}, row(30)},
-		{row(30), 0x34F, []int{0x34F}, row(30)},
-		{row(30), 0xFB01, []int{'i'}, append(row(30), 'f')},
-		{row(29), 0xE9, []int{'e', 0x301}, row(29)},
-		{behind('e', row(29)...), 0x301, behind('e', row(30)...), nil},
-		{behind('e', row(29)...), 0x323, slices.Concat([]int{'e', 0x323}, row(29)), nil},
-		{behind('e', row(30)...), 0x301, []int{0x34F, 0x301}, behind(0xE9, row(29)...)},
-		{behind('e', row(30)...), 0x323, []int{0x34F, 0x323}, behind(0xE9, row(29)...)},
-		{behind('e', row(30)...), 0xE9, []int{'e', 0x301}, behind(0xE9, row(29)...)},
-		{behind('e', row(30)...), -1, []int{-1}, behind(0xE9, row(29)...)},
-		{behind(0xE9, row(30)...), 0x301, []int{0x34F, 0x301}, behind(0xE9, row(30)...)},
-		{behind(0x34F, row(30)...), 0x301, []int{0x34F, 0x301}, behind(0x34F, row(30)...)},
-		{behind(0x1100, row(30)...), 0x1161, []int{0x1161}, behind(0x1100, row(30)...)},
+		{sample.Row(29), 0x301, sample.Row(30), nil},
+		{sample.Row(29), 0x323, behind(0x323, sample.Row(29)...), nil},
+		{sample.Row(30), 0x301, []int{0x34F, 0x301}, sample.Row(30)},
+		{sample.Row(30), 0x323, []int{0x34F, 0x323}, sample.Row(30)},
+		{sample.Row(30), 'e', []int{'e'}, sample.Row(30)},
+		{sample.Row(30), 0x34F, []int{0x34F}, sample.Row(30)},
+		{sample.Row(30), 0xFB01, []int{'i'}, append(sample.Row(30), 'f')},
+		{sample.Row(29), 0xE9, []int{'e', 0x301}, sample.Row(29)},
+		{behind('e', sample.Row(29)...), 0x301, behind('e', sample.Row(30)...), nil},
+		{behind('e', sample.Row(29)...), 0x323, slices.Concat([]int{'e', 0x323}, sample.Row(29)), nil},
+		{behind('e', sample.Row(30)...), 0x301, []int{0x34F, 0x301}, behind(0xE9, sample.Row(29)...)},
+		{behind('e', sample.Row(30)...), 0x323, []int{0x34F, 0x323}, behind(0xE9, sample.Row(29)...)},
+		{behind('e', sample.Row(30)...), 0xE9, []int{'e', 0x301}, behind(0xE9, sample.Row(29)...)},
+		{behind('e', sample.Row(30)...), -1, []int{-1}, behind(0xE9, sample.Row(29)...)},
+		{behind(0xE9, sample.Row(30)...), 0x301, []int{0x34F, 0x301}, behind(0xE9, sample.Row(30)...)},
+		{behind(0x34F, sample.Row(30)...), 0x301, []int{0x34F, 0x301}, behind(0x34F, sample.Row(30)...)},
+		{behind(0x1100, sample.Row(30)...), 0x1161, []int{0x1161}, behind(0x1100, sample.Row(30)...)},
 	} {
 		s, told := norm.Feed(norm.State{L: x.l}, x.r)
 		if !slices.Equal(s.L, x.left) || !slices.Equal(told, x.told) {
@@ -331,7 +328,7 @@ func TestEveryState(t *testing.T) {
 	}
 	long := canon.Order(sample.Strewn(31))
 	for n := range len(long) + 1 {
-		for _, l := range [][]int{long[:n], long[len(long)-n:], row(n)} {
+		for _, l := range [][]int{long[:n], long[len(long)-n:], sample.Row(n)} {
 			for _, head := range []int{'a', 'o', 0xE2, 0x34F, 0xAC00, 0xFB01, -1} {
 				checkState(t, behind(head, l...), some...)
 			}
@@ -420,11 +417,11 @@ func TestAllByHand(t *testing.T) {
 		{[]int{0x1100, 0x1161, 0x11A8, 0x11A8}, []int{0xAC01, 0x11A8}},
 		{[]int{0xAC00, 0x11A8, 0x1161}, []int{0xAC01, 0x1161}},
 		{[]int{-1, 0x345, 0x301, math.MaxInt}, []int{-1, 0x301, 0x345, math.MaxInt}},
-		{behind('e', row(30)...), behind(0xE9, row(29)...)},
-		{behind('e', row(31)...), slices.Concat([]int{0xE9}, row(29), j, row(1))},
-		{behind(0xE9, row(30)...), slices.Concat([]int{0xE9}, row(29), j, row(1))},
-		{row(61), slices.Concat(row(30), j, row(30), j, row(1))},
-		{slices.Concat(row(30), j, row(30)), slices.Concat(row(30), j, row(30))},
+		{behind('e', sample.Row(30)...), behind(0xE9, sample.Row(29)...)},
+		{behind('e', sample.Row(31)...), slices.Concat([]int{0xE9}, sample.Row(29), j, sample.Row(1))},
+		{behind(0xE9, sample.Row(30)...), slices.Concat([]int{0xE9}, sample.Row(29), j, sample.Row(1))},
+		{sample.Row(61), slices.Concat(sample.Row(30), j, sample.Row(30), j, sample.Row(1))},
+		{slices.Concat(sample.Row(30), j, sample.Row(30)), slices.Concat(sample.Row(30), j, sample.Row(30))},
 	} {
 		if all := norm.All(x.l); !slices.Equal(all, x.all) {
 			t.Errorf("All(%#x) = %#x; want %#x", x.l, all, x.all)
@@ -481,14 +478,14 @@ func TestGreatLists(t *testing.T) {
 func TestAnswersApart(t *testing.T) {
 	for l := range sample.Lists([]int{'a', 0x302, 0x323, 0x1100, 0x1161}, 3) {
 		for _, r := range []int{'a', 0x301, 0x323, 0x334, 0x1161, 0xFB01} {
-			spare := slices.Concat(l, row(40))
+			spare := slices.Concat(l, sample.Row(40))
 			in := norm.State{L: spare[:len(l)]}
 			left, told := norm.Feed(in, r)
 			end := norm.End(in)
 			for _, answer := range [][]int{left.L, told, end} {
 				clear(answer[:cap(answer)])
 			}
-			if !slices.Equal(spare, slices.Concat(l, row(40))) {
+			if !slices.Equal(spare, slices.Concat(l, sample.Row(40))) {
 				t.Fatalf("Feed and End of %#x, and who changed their answers, made of it, and of what stands behind it, %#x", l, spare)
 			}
 			checkState(t, in.L, r)

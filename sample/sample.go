@@ -61,7 +61,7 @@ func ofFew() iter.Seq[[]int] {
 
 // ofRows ranges over rows of all lengths, of one mark and of many, between values of many a kind.
 func ofRows() iter.Seq[[]int] {
-	alike, strewn := slices.Repeat([]int{0x301}, 130), Strewn(130)
+	alike, strewn := Row(130), Strewn(130)
 	return func(yield func([]int) bool) {
 		for n := range len(strewn) {
 			for _, head := range [][]int{nil, {'e'}, {0xE9}, {0x1EAD}, {api.Joiner}, {0xAC00}, {-1}} {
@@ -75,7 +75,7 @@ func ofRows() iter.Seq[[]int] {
 
 // ofThreeRows ranges over lists of three rows whose lengths are at the bounds.
 func ofThreeRows() iter.Seq[[]int] {
-	row, strewn := slices.Repeat([]int{0x301}, 61), Strewn(122)
+	row, strewn := Row(61), Strewn(122)
 	return func(yield func([]int) bool) {
 		for lengths := range Lists([]int{0, 1, 29, 30, 31, 60, 61}, 3) {
 			if len(lengths) < 3 {
@@ -91,7 +91,7 @@ func ofThreeRows() iter.Seq[[]int] {
 
 // behindRows ranges over short lists behind rows that are about as long as may be.
 func behindRows() iter.Seq[[]int] {
-	row, strewn := slices.Repeat([]int{0x301}, 31), Strewn(31)
+	row, strewn := Row(31), Strewn(31)
 	return func(yield func([]int) bool) {
 		for l := range Lists([]int{'e', 0xE9, 0x301, 0x323, api.Joiner}, 3) {
 			for n := 27; n < 32; n++ {
@@ -148,6 +148,9 @@ func Marks() []int {
 	}
 	return l
 }
+
+// Row tells n marks alike.
+func Row(n int) []int { return slices.Repeat([]int{0x301}, max(n, 0)) }
 
 // Strewn tells n marks, so that each class comes again and again, and no two runs of them are alike.
 func Strewn(n int) []int {

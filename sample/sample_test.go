@@ -108,6 +108,17 @@ func TestMarks(t *testing.T) {
 	}
 }
 
+func TestRow(t *testing.T) {
+	if l := sample.Row(3); !slices.Equal(l, []int{0x301, 0x301, 0x301}) {
+		t.Errorf("3 marks alike: %#x", l)
+	}
+	for _, n := range []int{0, -1} {
+		if l := sample.Row(n); len(l) > 0 {
+			t.Errorf("of %d marks: %#x", n, l)
+		}
+	}
+}
+
 func TestStrewn(t *testing.T) {
 	all, classes := sample.Strewn(200), map[int]bool{}
 	for _, r := range all {
