@@ -13,49 +13,8 @@ import (
 	"pentrough/sample"
 )
 
-// ofKind tells a value of each kind, at the kind's number.
-func ofKind() []int {
-	return []int{'a', '\r', '\n', 0x7F, 0x301, 0x200D, 0x1F1E6, 0x600, 0x903, 0x1100, 0x1161, 0x11A8, 0xAC00, 0xAC01, 0x1F600}
-}
-
-// signs are those that stand for kinds, each at the kind's number, in the rows of signs of these tests.
-const signs = "oRNcezipsLVTvtx"
-
-// values tells the values of the kinds for which some signs stand.
-func values(row string) []int {
-	var l []int
-	for _, sign := range row {
-		l = append(l, ofKind()[strings.IndexRune(signs, sign)])
-	}
-	return l
-}
-
-// row tells the signs of the kinds of some values.
-func row(l []int) string {
-	var all strings.Builder
-	for _, r := range l {
-		all.WriteByte(signs[prop.Gcb(r)])
-	}
-	return all.String()
-}
-
 // bad: numbers that are no values, and so have no kind; many would have one once they are cut down to fewer bits.
 var bad = append(sample.Bad(), -'\r', -0x200D, -1<<16+0x200D, -1<<32+'\n', math.MinInt+0x1F600, math.MinInt+'\r', 1<<21+0x1F1E6, 1<<31+0x600, 1<<32+'\r', 1<<32+'\n', 1<<32+0x200D, 1<<32+0x1F600, 1<<32+0xAC00, 1<<62+0x1100)
-
-// all tells every State of a Kind that is one, or nearly one, or far from it.
-func all() []clus.State {
-	var l []clus.State
-	kinds := []int{math.MinInt, -1 << 32, -1<<32 + prop.RI, 1 << 32, 1<<32 + prop.RI, 1<<32 + prop.Pict, math.MaxInt}
-	for kind := -3; kind < 20; kind++ {
-		kinds = append(kinds, kind)
-	}
-	for _, kind := range kinds {
-		for bits := range 8 {
-			l = append(l, clus.State{On: bits&1 > 0, Kind: kind, Pict: bits&2 > 0, Odd: bits&4 > 0})
-		}
-	}
-	return l
-}
 
 // A placed State has its sign ahead: that of its Kind, with + behind it where it has Pict or Odd; nothing without On.
 type placed struct {
@@ -147,7 +106,7 @@ var cluster = func() *regexp.Regexp {
 
 // formCuts tells where clusters end by their form.
 func formCuts(l []int) []bool {
-	left := row(l)
+	left := sample.Signs(l)
 	var cuts []bool
 	for len(left) > 0 {
 		n := len(cluster.FindString(left))
@@ -164,7 +123,7 @@ func told(l []int, cuts []bool) string {
 		return "of another length"
 	}
 	var all strings.Builder
-	signs := row(l)
+	signs := sample.Signs(l)
 	for k, cut := range cuts {
 		if cut {
 			all.WriteByte('|')
@@ -214,17 +173,6 @@ func checkCuts(t *testing.T, l []int) {
 	}
 }
 
-func TestOfKind(t *testing.T) {
-	for kind, r := range ofKind() {
-		if k := prop.Gcb(r); k != kind {
-			t.Errorf("%#x is of kind %d, and not of %d", r, k, kind)
-		}
-	}
-	if len(ofKind()) != 15 || len(signs) != 15 {
-		t.Error("not each kind has its value and its sign")
-	}
-}
-
 // P11.1
 
 func TestSaneByHand(t *testing.T) {
@@ -249,8 +197,8 @@ func TestSaneByHand(t *testing.T) {
 // Every State, Sane or not, ahead of a value of each kind, and of what is no value; those that are Sane are those written out.
 func TestEveryState(t *testing.T) {
 	count := 0
-	for _, s := range all() {
-		checkState(t, s, slices.Concat(bad, ofKind())...)
+	for _, s := range sample.ClusStates() {
+		checkState(t, s, slices.Concat(bad, sample.OfKind())...)
 		if clus.Sane(s) {
 			count++
 		}
@@ -262,11 +210,11 @@ func TestEveryState(t *testing.T) {
 
 // What is not Sane counts as what is empty.
 func TestInsaneStates(t *testing.T) {
-	for _, s := range all() {
+	for _, s := range sample.ClusStates() {
 		if clus.Sane(s) {
 			continue
 		}
-		for _, r := range slices.Concat(bad, ofKind()) {
+		for _, r := range slices.Concat(bad, sample.OfKind()) {
 			if clus.Ends(s, r) {
 				t.Fatalf("Ends(%+v, %#x), though nothing came", s, r)
 			}
@@ -309,7 +257,7 @@ func TestEndsByHand(t *testing.T) {
 			t.Errorf("nothing is known of %q", p.sign)
 		}
 		for k, sign := range strings.Fields(ends) {
-			r := values(strings.Fields(order)[k])[0]
+			r := sample.Values(strings.Fields(order)[k])[0]
 			if got := clus.Ends(p.s, r); got != (sign == "|") {
 				t.Errorf("Ends(%+v, %#x) = %v", p.s, r, got)
 			}
@@ -360,7 +308,7 @@ func TestNextByHand(t *testing.T) {
 		{"i+", "i", "i"}, {"i", "i", "i+"}, {"i+", "e", "e"}, {"i+", "o", "o"}, {"i+", "x", "x+"}, {"i", "z", "z"}, {"e", "i", "i+"},
 		{"L", "V", "V"}, {"V", "T", "T"}, {"v", "T", "T"}, {"T", "L", "L"}, {"t", "v", "v"}, {"L", "t", "t"},
 	} {
-		r := values(x.sign)[0]
+		r := sample.Values(x.sign)[0]
 		if next := clus.Next(state[x.ahead], r); next != state[x.next] {
 			t.Errorf("Next(%+v, %#x) = %+v; want %+v", state[x.ahead], r, next, state[x.next])
 		}
@@ -385,7 +333,7 @@ func TestCutsByHand(t *testing.T) {
 		"i|o", "ii", "ii|i", "ii|ii", "ii|ii|i", "ie|i", "ie|ii|i", "ize|ii", "iie|i", "iie|ii", "is|ii|i", "i|x", "o|ii|i", "ii|o|ii", "i|R|ii",
 		"x|x", "xe|x", "xz", "xzx", "xezx", "xeezx", "xzxzx", "xzxezx", "xzxz|o", "xz|o", "xzz|x", "xez|i", "xze|x", "xzez|x", "xsz|x", "xes|x", "xz|i", "oz|x", "iz|x", "xzxe", "xzx|x", "xzxs|x", "x|o", "c|z|x", "xz|c|x", "xz|pxzx",
 	} {
-		l := values(strings.ReplaceAll(want, "|", ""))
+		l := sample.Values(want)
 		if cuts := told(l, clus.Cuts(l)); cuts != want {
 			t.Errorf("Cuts(%#x) are %s; want %s", l, cuts, want)
 		}
@@ -395,11 +343,11 @@ func TestCutsByHand(t *testing.T) {
 
 // All short lists of all kinds, and the longer ones of those whose rules hang on more than two values.
 func TestAllShortLists(t *testing.T) {
-	for l := range sample.Lists(ofKind(), 4) {
+	for l := range sample.Lists(sample.OfKind(), 4) {
 		checkCuts(t, l)
 	}
 	for few, n := range map[string]int{"xezs": 7, "xzic": 6, "iez": 8, "pixzo": 6, "LVTvt": 6, "LVTvte": 5, "RNc": 8, "RNcope": 5} {
-		for l := range sample.Lists(values(few), n) {
+		for l := range sample.Lists(sample.Values(few), n) {
 			checkCuts(t, l)
 		}
 	}
@@ -408,7 +356,7 @@ func TestAllShortLists(t *testing.T) {
 // The States that come are those that may be.
 func TestStatesThatCome(t *testing.T) {
 	come := map[clus.State]bool{{}: true}
-	for l := range sample.Lists(ofKind(), 3) {
+	for l := range sample.Lists(sample.OfKind(), 3) {
 		var s clus.State
 		for _, r := range l {
 			s = clus.Next(s, r)
@@ -427,7 +375,7 @@ func TestStatesThatCome(t *testing.T) {
 
 // Where clusters end hangs on no more of what came than the State tells: a list that is cut anywhere, and goes on from the State there, is cut as it is whole.
 func TestGoingOn(t *testing.T) {
-	for l := range sample.Lists(values("xezip"), 5) {
+	for l := range sample.Lists(sample.Values("xezip"), 5) {
 		whole := clus.Cuts(l)
 		for k := range l {
 			var s clus.State
@@ -449,10 +397,11 @@ func TestGoingOn(t *testing.T) {
 // P11.4
 
 func TestWhatExtends(t *testing.T) {
-	for l := range sample.Lists(ofKind(), 4) {
+	for l := range sample.Lists(sample.OfKind(), 4) {
+		signs := sample.Signs(l)
 		for k, cut := range clus.Cuts(l) {
-			extends := strings.ContainsRune("ezs", rune(signs[prop.Gcb(l[k])]))
-			if extends && cut != (k > 0 && strings.ContainsRune("RNc", rune(signs[prop.Gcb(l[k-1])]))) {
+			extends := strings.ContainsRune("ezs", rune(signs[k]))
+			if extends && cut != (k > 0 && strings.ContainsRune("RNc", rune(signs[k-1]))) {
 				t.Fatalf("of %#x what extends begins anew at %d: %v", l, k, cut)
 			}
 		}
@@ -462,7 +411,7 @@ func TestWhatExtends(t *testing.T) {
 // Of a great list it is told as soon, for its length, as of a small one. Each part but the first is cut as is said.
 func TestGreatLists(t *testing.T) {
 	for _, part := range []string{"|o", "e", "|RN", "|N|N", "N|R", "|ii", "|ie", "xz", "xez", "|xze", "|xzz", "|LV", "L", "VV", "|LVT", "p", "|p|c"} {
-		few := values(strings.ReplaceAll(part, "|", ""))
+		few := sample.Values(part)
 		l := slices.Repeat(few, 1<<16)
 		cuts := clus.Cuts(l)
 		if len(cuts) != len(l) || cuts[0] {
@@ -478,7 +427,7 @@ func TestGreatLists(t *testing.T) {
 
 // Nothing is kept: who changes an answer changes no other one, made before or after it, nor what was handed in, nor what stands behind this in its memory.
 func TestAnswersApart(t *testing.T) {
-	for l := range sample.Lists(values("oexz"), 4) {
+	for l := range sample.Lists(sample.Values("oexz"), 4) {
 		spare := slices.Concat(l, []int{'a', 'b', 0x301})
 		in := spare[:len(l)]
 		first, second := clus.Cuts(in), clus.Cuts(in)
@@ -497,11 +446,11 @@ func TestCallsAtOnce(t *testing.T) {
 	var ended sync.WaitGroup
 	for range 8 {
 		ended.Go(func() {
-			for _, s := range all() {
+			for _, s := range sample.ClusStates() {
 				clus.Cuts(bad)
 				clus.Ends(s, bad[0])
 				clus.Next(s, 0x1F600)
-				l := values("oexezxii")
+				l := sample.Values("oexezxii")
 				if cuts := told(l, clus.Cuts(l)); cuts != "oe|xezx|ii" {
 					t.Errorf("behind %+v, the cuts are %s", s, cuts)
 					return

@@ -1,4 +1,4 @@
-// Package sample holds the values, and the lists of them, that the tests of several layers try; no layer calls it.
+// Package sample holds the values, the lists of them, and the States, that the tests of several layers try; no layer calls it.
 package sample
 
 import (
