@@ -9,6 +9,7 @@ import (
 
 	"pentrough/api"
 	"pentrough/dec"
+	"pentrough/sample"
 )
 
 // numbers that are no scalar values; some of them would be one if they were cut down to 32 or 21 bits.
@@ -112,24 +113,7 @@ func after(b string) []byte {
 	if len(b) == 3 {
 		return edges
 	}
-	var l []byte
-	for c := range 256 {
-		l = append(l, byte(c))
-	}
-	return l
-}
-
-// texts ranges over all texts of the edges that have n bytes or fewer.
-func texts(n int, yield func(string)) {
-	yield("")
-	if n == 0 {
-		return
-	}
-	for _, c := range edges {
-		texts(n-1, func(t string) {
-			yield(string([]byte{c}) + t)
-		})
-	}
+	return sample.Bytes()
 }
 
 // P1.1
@@ -175,11 +159,11 @@ func TestSaneOfOthers(t *testing.T) {
 			t.Errorf("Sane(%q) = true", b)
 		}
 	}
-	texts(4, func(b string) {
-		if dec.Sane(dec.State{B: b}) != (b == "" || known().beginnings[b]) {
+	for b := range sample.Lists(edges, 4) {
+		if dec.Sane(dec.State{B: string(b)}) != (len(b) == 0 || known().beginnings[string(b)]) {
 			t.Fatalf("Sane(%q) is wrong", b)
 		}
-	})
+	}
 }
 
 // P1.2
@@ -307,11 +291,11 @@ func TestAllByHand(t *testing.T) {
 }
 
 func TestAllOfEdges(t *testing.T) {
-	texts(4, func(b string) {
-		if l := dec.All([]byte(b)); !slices.Equal(l, all(b)) {
-			t.Fatalf("All(%q) = %x; want %x", b, l, all(b))
+	for b := range sample.Lists(edges, 4) {
+		if l := dec.All(b); !slices.Equal(l, all(string(b))) {
+			t.Fatalf("All(%q) = %x; want %x", b, l, all(string(b)))
 		}
-	})
+	}
 }
 
 func TestAllOfValidTextIsItsRunes(t *testing.T) {
@@ -384,11 +368,11 @@ func TestWhatIsWrittenIsReadAgain(t *testing.T) {
 }
 
 func TestNoMoreValuesThanBytes(t *testing.T) {
-	texts(4, func(b string) {
-		if l := dec.All([]byte(b)); len(l) > len(b) {
+	for b := range sample.Lists(edges, 4) {
+		if l := dec.All(b); len(l) > len(b) {
 			t.Fatalf("All(%q) = %x", b, l)
 		}
-	})
+	}
 }
 
 func TestThreeBytesAreLeftAtMost(t *testing.T) {

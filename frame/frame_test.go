@@ -3,6 +3,7 @@ package frame_test
 import (
 	"bytes"
 	"encoding/binary"
+	"iter"
 	"slices"
 	"strings"
 	"sync"
@@ -111,21 +112,6 @@ func check(t *testing.T, b []byte) {
 	checkTake(t, b, text, n, err)
 	texts, n, err := wantAll(b)
 	checkAll(t, b, texts, n, err)
-}
-
-// ofEdges ranges over all rows of no more than n of some bytes.
-func ofEdges(from []byte, n int, yield func([]byte)) {
-	var all []int
-	for _, c := range from {
-		all = append(all, int(c))
-	}
-	for l := range sample.Lists(all, n) {
-		b := make([]byte, len(l))
-		for k, c := range l {
-			b[k] = byte(c)
-		}
-		yield(b)
-	}
 }
 
 // P13.1
@@ -292,13 +278,13 @@ func TestTakeByHand(t *testing.T) {
 }
 
 func TestShortRows(t *testing.T) {
-	var every []byte
-	for c := range 256 {
-		every = append(every, byte(c))
+	for _, rows := range []iter.Seq[[]byte]{
+		sample.Lists(sample.Bytes(), 2), sample.Lists(edges, 5), sample.Lists([]byte{0, 1, 2, 0x80}, 8),
+	} {
+		for b := range rows {
+			check(t, b)
+		}
 	}
-	ofEdges(every, 2, func(b []byte) { check(t, b) })
-	ofEdges(edges, 5, func(b []byte) { check(t, b) })
-	ofEdges([]byte{0, 1, 2, 0x80}, 8, func(b []byte) { check(t, b) })
 }
 
 // Of each length fewer bytes, as many, and more; whatever these are, and whatever the list has room for behind its end.
@@ -464,7 +450,7 @@ func TestWhatIsPutIsTaken(t *testing.T) {
 
 // What is put is taken, whatever stands behind it.
 func TestWhatIsPutIsTakenWhateverStandsBehind(t *testing.T) {
-	ofEdges(edges, 3, func(behind []byte) {
+	for behind := range sample.Lists(edges, 3) {
 		for _, c := range [][]int{{0}, {0x65, 0x301}, {-1}, slices.Repeat([]int{0x80}, 64), sample.Row(100)} {
 			b := append(frame.Put(c), behind...)
 			text := text(c)
@@ -472,7 +458,7 @@ func TestWhatIsPutIsTakenWhateverStandsBehind(t *testing.T) {
 			texts, n, err := wantAll(behind)
 			checkAll(t, b, append([]string{text}, texts...), len(framed(text))+n, err)
 		}
-	})
+	}
 }
 
 // Great lists end as soon, for their length.

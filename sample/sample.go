@@ -10,13 +10,13 @@ import (
 	"pentrough/prop"
 )
 
-// Lists ranges over all lists of no more than n of some values.
-func Lists(values []int, n int) iter.Seq[[]int] {
-	return func(yield func([]int) bool) { longer(nil, values, n, yield) }
+// Lists ranges over all lists of no more than n of some values, or bytes.
+func Lists[T any](values []T, n int) iter.Seq[[]T] {
+	return func(yield func([]T) bool) { longer(nil, values, n, yield) }
 }
 
 // longer tells a list, and all that begin with it; it is false once no more are asked for.
-func longer(l, values []int, n int, yield func([]int) bool) bool {
+func longer[T any](l, values []T, n int, yield func([]T) bool) bool {
 	if !yield(l) {
 		return false
 	}
@@ -29,6 +29,15 @@ func longer(l, values []int, n int, yield func([]int) bool) bool {
 		}
 	}
 	return true
+}
+
+// Bytes tells every byte.
+func Bytes() []byte {
+	l := make([]byte, 256)
+	for k := range l {
+		l[k] = byte(k)
+	}
+	return l
 }
 
 // Hard ranges over lists of which much is put together in many an order, and those whose rows of marks are about as long as may be.

@@ -29,6 +29,26 @@ func TestLists(t *testing.T) {
 	}
 }
 
+func TestListsOfBytes(t *testing.T) {
+	all := slices.Collect(sample.Lists([]byte("ab"), 2))
+	want := [][]byte{nil, []byte("a"), []byte("aa"), []byte("ab"), []byte("b"), []byte("ba"), []byte("bb")}
+	if !slices.EqualFunc(all, want, slices.Equal) {
+		t.Errorf("all lists of no more than two of a and b are %q; want %q", all, want)
+	}
+}
+
+func TestBytes(t *testing.T) {
+	all := sample.Bytes()
+	if len(all) != 256 {
+		t.Errorf("there are %d bytes", len(all))
+	}
+	for k, c := range all {
+		if int(c) != k {
+			t.Errorf("byte %d is %d", k, c)
+		}
+	}
+}
+
 func TestHard(t *testing.T) {
 	all, rows := 0, map[int]bool{}
 	for l := range sample.Hard() {

@@ -8,6 +8,7 @@ import (
 	"testing"
 
 	"pentrough/api"
+	"pentrough/sample"
 	"pentrough/varint"
 )
 
@@ -85,33 +86,6 @@ func take(b []byte) (int, int, api.Errno) {
 		n += int(b[k]&127) << (7 * k)
 	}
 	return n, first + 1, api.OK
-}
-
-// eachRow ranges over all rows of some bytes that are n long or shorter.
-func eachRow(from []byte, n int, yield func([]byte)) {
-	b := make([]byte, 0, n)
-	var longer func()
-	longer = func() {
-		yield(b)
-		if len(b) == n {
-			return
-		}
-		for _, c := range from {
-			b = append(b, c)
-			longer()
-			b = b[:len(b)-1]
-		}
-	}
-	longer()
-}
-
-// every tells all bytes.
-func every() []byte {
-	var l []byte
-	for c := range 256 {
-		l = append(l, byte(c))
-	}
-	return l
 }
 
 func checkTake(t *testing.T, b []byte) {
@@ -237,11 +211,15 @@ func TestTakeByHand(t *testing.T) {
 }
 
 func TestTakeOfAllShortRows(t *testing.T) {
-	eachRow(every(), 3, func(b []byte) { checkTake(t, b) })
+	for b := range sample.Lists(sample.Bytes(), 3) {
+		checkTake(t, b)
+	}
 }
 
 func TestTakeOfEdges(t *testing.T) {
-	eachRow(edges, 6, func(b []byte) { checkTake(t, b) })
+	for b := range sample.Lists(edges, 6) {
+		checkTake(t, b)
+	}
 }
 
 func TestTakeOfLongRows(t *testing.T) {
@@ -280,13 +258,13 @@ func TestTakeLooksNoFurtherThanItsEnd(t *testing.T) {
 }
 
 func TestTakeLeavesItsBytes(t *testing.T) {
-	eachRow([]byte{0x00, 0x01, 0x7F, 0x80, 0xFF}, 5, func(b []byte) {
+	for b := range sample.Lists([]byte{0x00, 0x01, 0x7F, 0x80, 0xFF}, 5) {
 		keep := slices.Clone(b)
 		varint.Take(b)
 		if !bytes.Equal(b, keep) {
 			t.Fatalf("Take(% x) changed it to % x", keep, b)
 		}
-	})
+	}
 }
 
 // P2.3
@@ -302,7 +280,7 @@ func TestWhatIsPutIsTaken(t *testing.T) {
 
 func TestWhatIsPutIsTakenWhateverStandsBehind(t *testing.T) {
 	behind := [][]byte{bytes.Repeat([]byte{0xFF}, 10000), make([]byte, 10000)}
-	eachRow(edges, 3, func(b []byte) { behind = append(behind, slices.Clone(b)) })
+	behind = slices.AppendSeq(behind, sample.Lists(edges, 3))
 	for c := range 256 {
 		behind = append(behind, []byte{byte(c)})
 	}
@@ -317,12 +295,12 @@ func TestWhatIsPutIsTakenWhateverStandsBehind(t *testing.T) {
 }
 
 func TestWhatIsTakenIsPutAsTheSame(t *testing.T) {
-	eachRow(edges, 5, func(b []byte) {
+	for b := range sample.Lists(edges, 5) {
 		n, size, err := varint.Take(b)
 		if err == api.OK && !bytes.Equal(varint.Put(n), b[:size]) {
 			t.Fatalf("of % x is taken %d, %d; put it is % x", b, n, size, varint.Put(n))
 		}
-	})
+	}
 }
 
 func TestOneNumberBehindTheOther(t *testing.T) {
