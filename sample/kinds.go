@@ -36,6 +36,15 @@ func Signs(l []int) string {
 	return all.String()
 }
 
+// ClusState tells the State of clus at which values of the kinds came for which some signs stand.
+func ClusState(signs string) clus.State {
+	var s clus.State
+	for _, r := range Values(signs) {
+		s = clus.Next(s, r)
+	}
+	return s
+}
+
 // ClusStates tells every State of clus that may be, and many that are nearly one, or far from it.
 func ClusStates() []clus.State {
 	var l []clus.State

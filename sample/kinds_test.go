@@ -37,6 +37,14 @@ func TestSigns(t *testing.T) {
 	}
 }
 
+func TestClusState(t *testing.T) {
+	for signs, want := range map[string]clus.State{"": {}, "xe": {On: true, Kind: prop.Extend, Pict: true}, "ii": {On: true, Kind: prop.RI}, "x|iii": {On: true, Kind: prop.RI, Odd: true}} {
+		if s := sample.ClusState(signs); s != want {
+			t.Errorf("behind %s clus is at %+v; want %+v", signs, s, want)
+		}
+	}
+}
+
 func TestClusStates(t *testing.T) {
 	all, sane := sample.ClusStates(), 0
 	for k, s := range all {

@@ -144,22 +144,13 @@ func check(t *testing.T, l []int) {
 	checkAll(t, l)
 }
 
-// saneS tells a State of clus at which something came.
-func saneS(signs string) clus.State {
-	var s clus.State
-	for _, r := range sample.Values(signs) {
-		s = clus.Next(s, r)
-	}
-	return s
-}
-
 // insane tells States that may not be, each for one reason, and such as have several.
 func insane() []seg.State {
 	on := clus.State{On: true}
 	return []seg.State{
 		{C: []int{'a'}}, {C: sample.Row(32)}, {C: sample.Row(33)},
-		{S: on}, {S: saneS("xe")}, {S: saneS("i")}, {C: []int{}, S: on},
-		{C: sample.Row(33), S: on}, {C: sample.Row(1 << 12), S: on}, {C: sample.Row(33), S: saneS("xz")},
+		{S: on}, {S: sample.ClusState("xe")}, {S: sample.ClusState("i")}, {C: []int{}, S: on},
+		{C: sample.Row(33), S: on}, {C: sample.Row(1 << 12), S: on}, {C: sample.Row(33), S: sample.ClusState("xz")},
 		{C: []int{'a'}, S: clus.State{On: true, Kind: 15}}, {C: []int{'a'}, S: clus.State{On: true, Kind: -1}}, {C: []int{'a'}, S: clus.State{On: true, Odd: true}},
 		{C: []int{0x1F600}, S: clus.State{On: true, Kind: prop.Pict}}, {C: []int{0x1F1E6}, S: clus.State{On: true, Kind: prop.RI, Pict: true}},
 		{C: []int{'a'}, S: clus.State{Kind: prop.ZWJ}}, {C: []int{'a'}, S: clus.State{Odd: true}}, {S: clus.State{Kind: 1}}, {S: clus.State{Pict: true}},
@@ -171,10 +162,10 @@ func insane() []seg.State {
 
 func TestSaneByHand(t *testing.T) {
 	for _, s := range []seg.State{
-		{}, {C: []int{}}, {C: []int{'a'}, S: saneS("o")}, {C: []int{'a', 0x301}, S: saneS("oe")}, {C: sample.Row(31), S: saneS("e")}, {C: sample.Row(32), S: saneS("e")},
-		{C: sample.Row(32), S: saneS("xz")}, {C: []int{0x1F1E6}, S: saneS("i")}, {C: []int{0x1F1E6}, S: saneS("ii")},
+		{}, {C: []int{}}, {C: []int{'a'}, S: sample.ClusState("o")}, {C: []int{'a', 0x301}, S: sample.ClusState("oe")}, {C: sample.Row(31), S: sample.ClusState("e")}, {C: sample.Row(32), S: sample.ClusState("e")},
+		{C: sample.Row(32), S: sample.ClusState("xz")}, {C: []int{0x1F1E6}, S: sample.ClusState("i")}, {C: []int{0x1F1E6}, S: sample.ClusState("ii")},
 		// Of what stands in C, and whether it is one cluster, nothing is asked.
-		{C: []int{'a', 'b', '\r'}, S: saneS("i")}, {C: []int{-1}, S: saneS("x")}, {C: bad[:20], S: saneS("L")},
+		{C: []int{'a', 'b', '\r'}, S: sample.ClusState("i")}, {C: []int{-1}, S: sample.ClusState("x")}, {C: bad[:20], S: sample.ClusState("L")},
 	} {
 		if !seg.Sane(s) || !wantSane(s) {
 			t.Errorf("Sane(%+v) = false", s)
@@ -223,30 +214,30 @@ func TestFeedByHand(t *testing.T) {
 		next seg.State
 		told []int
 	}{
-		{seg.State{}, 'a', seg.State{C: []int{'a'}, S: saneS("o")}, nil},
-		{seg.State{}, 0x301, seg.State{C: []int{0x301}, S: saneS("e")}, nil},
-		{seg.State{}, '\n', seg.State{C: []int{'\n'}, S: saneS("N")}, nil},
-		{seg.State{}, 0x1F1E6, seg.State{C: []int{0x1F1E6}, S: saneS("i")}, nil},
-		{seg.State{}, -1, seg.State{C: []int{-1}, S: saneS("o")}, nil},
-		{seg.State{C: []int{'a'}, S: saneS("o")}, 0x301, seg.State{C: []int{'a', 0x301}, S: saneS("oe")}, nil},
-		{seg.State{C: []int{'a'}, S: saneS("o")}, 'b', seg.State{C: []int{'b'}, S: saneS("o")}, []int{'a'}},
-		{seg.State{C: []int{'a', 0x301}, S: saneS("oe")}, 'b', seg.State{C: []int{'b'}, S: saneS("o")}, []int{'a', 0x301}},
-		{seg.State{C: []int{'\r'}, S: saneS("R")}, '\n', seg.State{C: []int{'\r', '\n'}, S: saneS("N")}, nil},
-		{seg.State{C: []int{'\r', '\n'}, S: saneS("N")}, 0x301, seg.State{C: []int{0x301}, S: saneS("e")}, []int{'\r', '\n'}},
-		{seg.State{C: []int{0x1F1E6}, S: saneS("i")}, 0x1F1E7, seg.State{C: []int{0x1F1E6, 0x1F1E7}, S: saneS("ii")}, nil},
-		{seg.State{C: []int{0x1F1E6, 0x1F1E7}, S: saneS("ii")}, 0x1F1E8, seg.State{C: []int{0x1F1E8}, S: saneS("i")}, []int{0x1F1E6, 0x1F1E7}},
+		{seg.State{}, 'a', seg.State{C: []int{'a'}, S: sample.ClusState("o")}, nil},
+		{seg.State{}, 0x301, seg.State{C: []int{0x301}, S: sample.ClusState("e")}, nil},
+		{seg.State{}, '\n', seg.State{C: []int{'\n'}, S: sample.ClusState("N")}, nil},
+		{seg.State{}, 0x1F1E6, seg.State{C: []int{0x1F1E6}, S: sample.ClusState("i")}, nil},
+		{seg.State{}, -1, seg.State{C: []int{-1}, S: sample.ClusState("o")}, nil},
+		{seg.State{C: []int{'a'}, S: sample.ClusState("o")}, 0x301, seg.State{C: []int{'a', 0x301}, S: sample.ClusState("oe")}, nil},
+		{seg.State{C: []int{'a'}, S: sample.ClusState("o")}, 'b', seg.State{C: []int{'b'}, S: sample.ClusState("o")}, []int{'a'}},
+		{seg.State{C: []int{'a', 0x301}, S: sample.ClusState("oe")}, 'b', seg.State{C: []int{'b'}, S: sample.ClusState("o")}, []int{'a', 0x301}},
+		{seg.State{C: []int{'\r'}, S: sample.ClusState("R")}, '\n', seg.State{C: []int{'\r', '\n'}, S: sample.ClusState("N")}, nil},
+		{seg.State{C: []int{'\r', '\n'}, S: sample.ClusState("N")}, 0x301, seg.State{C: []int{0x301}, S: sample.ClusState("e")}, []int{'\r', '\n'}},
+		{seg.State{C: []int{0x1F1E6}, S: sample.ClusState("i")}, 0x1F1E7, seg.State{C: []int{0x1F1E6, 0x1F1E7}, S: sample.ClusState("ii")}, nil},
+		{seg.State{C: []int{0x1F1E6, 0x1F1E7}, S: sample.ClusState("ii")}, 0x1F1E8, seg.State{C: []int{0x1F1E8}, S: sample.ClusState("i")}, []int{0x1F1E6, 0x1F1E7}},
 		// S alone tells where clusters end, whatever stands in C.
-		{seg.State{C: []int{'a', 'b'}, S: saneS("i")}, 0x1F1E6, seg.State{C: []int{'a', 'b', 0x1F1E6}, S: saneS("ii")}, nil},
-		{seg.State{C: []int{0x1F1E6}, S: saneS("ii")}, 0x1F1E6, seg.State{C: []int{0x1F1E6}, S: saneS("i")}, []int{0x1F1E6}},
-		{seg.State{C: []int{'a'}, S: saneS("R")}, '\n', seg.State{C: []int{'a', '\n'}, S: saneS("N")}, nil},
+		{seg.State{C: []int{'a', 'b'}, S: sample.ClusState("i")}, 0x1F1E6, seg.State{C: []int{'a', 'b', 0x1F1E6}, S: sample.ClusState("ii")}, nil},
+		{seg.State{C: []int{0x1F1E6}, S: sample.ClusState("ii")}, 0x1F1E6, seg.State{C: []int{0x1F1E6}, S: sample.ClusState("i")}, []int{0x1F1E6}},
+		{seg.State{C: []int{'a'}, S: sample.ClusState("R")}, '\n', seg.State{C: []int{'a', '\n'}, S: sample.ClusState("N")}, nil},
 		// One value more than may be is a cluster's first one, but S goes on.
-		{seg.State{C: sample.Row(31), S: saneS("e")}, 0x301, seg.State{C: full, S: saneS("e")}, nil},
-		{seg.State{C: full, S: saneS("e")}, 0x302, seg.State{C: []int{0x302}, S: saneS("e")}, full},
-		{seg.State{C: full, S: saneS("e")}, 'b', seg.State{C: []int{'b'}, S: saneS("o")}, full},
-		{seg.State{C: full, S: saneS("R")}, '\n', seg.State{C: []int{'\n'}, S: saneS("N")}, full},
-		{seg.State{C: full, S: saneS("i")}, 0x1F1E6, seg.State{C: []int{0x1F1E6}, S: saneS("ii")}, full},
-		{seg.State{C: full, S: saneS("xe")}, 0x200D, seg.State{C: []int{0x200D}, S: saneS("xez")}, full},
-		{seg.State{C: full, S: saneS("xz")}, 0x1F600, seg.State{C: []int{0x1F600}, S: saneS("x")}, full},
+		{seg.State{C: sample.Row(31), S: sample.ClusState("e")}, 0x301, seg.State{C: full, S: sample.ClusState("e")}, nil},
+		{seg.State{C: full, S: sample.ClusState("e")}, 0x302, seg.State{C: []int{0x302}, S: sample.ClusState("e")}, full},
+		{seg.State{C: full, S: sample.ClusState("e")}, 'b', seg.State{C: []int{'b'}, S: sample.ClusState("o")}, full},
+		{seg.State{C: full, S: sample.ClusState("R")}, '\n', seg.State{C: []int{'\n'}, S: sample.ClusState("N")}, full},
+		{seg.State{C: full, S: sample.ClusState("i")}, 0x1F1E6, seg.State{C: []int{0x1F1E6}, S: sample.ClusState("ii")}, full},
+		{seg.State{C: full, S: sample.ClusState("xe")}, 0x200D, seg.State{C: []int{0x200D}, S: sample.ClusState("xez")}, full},
+		{seg.State{C: full, S: sample.ClusState("xz")}, 0x1F600, seg.State{C: []int{0x1F600}, S: sample.ClusState("x")}, full},
 	} {
 		next, c := seg.Feed(x.s, x.r)
 		if !equal(next, x.next) || !slices.Equal(c, x.told) {
@@ -261,7 +252,7 @@ func TestEndByHand(t *testing.T) {
 		s   seg.State
 		end []int
 	}{
-		{}, {s: seg.State{C: []int{}}}, {seg.State{C: []int{'a'}, S: saneS("o")}, []int{'a'}}, {seg.State{C: []int{'a', 'b', -1}, S: saneS("x")}, []int{'a', 'b', -1}}, {seg.State{C: sample.Row(32), S: saneS("L")}, sample.Row(32)}, {s: seg.State{C: sample.Row(33), S: saneS("L")}}, {s: seg.State{C: []int{'a'}}},
+		{}, {s: seg.State{C: []int{}}}, {seg.State{C: []int{'a'}, S: sample.ClusState("o")}, []int{'a'}}, {seg.State{C: []int{'a', 'b', -1}, S: sample.ClusState("x")}, []int{'a', 'b', -1}}, {seg.State{C: sample.Row(32), S: sample.ClusState("L")}, sample.Row(32)}, {s: seg.State{C: sample.Row(33), S: sample.ClusState("L")}}, {s: seg.State{C: []int{'a'}}},
 	} {
 		if end := seg.End(x.s); !slices.Equal(end, x.end) {
 			t.Errorf("End(%+v) = %#x; want %#x", x.s, end, x.end)
@@ -271,7 +262,7 @@ func TestEndByHand(t *testing.T) {
 
 // Every value, and many numbers beside them: behind nothing, behind some States whose rules are not alike, and behind as many values as may be.
 func TestEveryValue(t *testing.T) {
-	states := []seg.State{{}, {C: []int{'\r'}, S: saneS("R")}, {C: []int{0xAC00, 0x1161}, S: saneS("LV")}, {C: []int{0x1F600, 0x200D}, S: saneS("xz")}, {C: []int{0x1F1E6}, S: saneS("i")}, {C: sample.Row(32), S: saneS("p")}, {C: sample.Row(33), S: saneS("p")}}
+	states := []seg.State{{}, {C: []int{'\r'}, S: sample.ClusState("R")}, {C: []int{0xAC00, 0x1161}, S: sample.ClusState("LV")}, {C: []int{0x1F600, 0x200D}, S: sample.ClusState("xz")}, {C: []int{0x1F1E6}, S: sample.ClusState("i")}, {C: sample.Row(32), S: sample.ClusState("p")}, {C: sample.Row(33), S: sample.ClusState("p")}}
 	for r := range sample.Numbers() {
 		for _, s := range states {
 			checkState(t, s, r)
@@ -434,7 +425,7 @@ func TestAnswersApart(t *testing.T) {
 	for l := range sample.Lists(few, 4) {
 		spare := slices.Concat(l, sample.Row(40))
 		in := spare[:len(l)]
-		given := seg.State{C: in, S: saneS(sample.Signs(l))}
+		given := seg.State{C: in, S: sample.ClusState(sample.Signs(l))}
 		for _, r := range few {
 			first, c := seg.Feed(given, r)
 			second, d := seg.Feed(given, r)
@@ -484,7 +475,7 @@ func TestTwoGoOn(t *testing.T) {
 
 // Nothing is kept: the calls of several that go at once are as those of one, and the wrong ones leave nothing behind.
 func TestCallsAtOnce(t *testing.T) {
-	given := seg.State{C: sample.Values("xe"), S: saneS("xe")}
+	given := seg.State{C: sample.Values("xe"), S: sample.ClusState("xe")}
 	var ended sync.WaitGroup
 	for range 8 {
 		ended.Go(func() {
