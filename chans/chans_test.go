@@ -28,7 +28,7 @@ func wantSane(c chans.Chan) bool {
 // wantKnown tells what a channel counts as.
 func wantKnown(c chans.Chan) chans.Chan {
 	if wantSane(c) {
-		return cloned(c)
+		return sample.CopyChan(c)
 	}
 	return chans.Chan{}
 }
@@ -61,49 +61,18 @@ func wantSpent(c chans.Chan) bool {
 
 func wantCount(c chans.Chan) int { return len(slices.Concat(wantKnown(c).L...)) }
 
-func equal(c, other chans.Chan) bool {
-	return c.Closed == other.Closed && slices.EqualFunc(c.L, other.L, slices.Equal)
-}
-
-// cloned tells a channel in memory of its own.
-func cloned(c chans.Chan) chans.Chan {
-	l := slices.Clone(c.L)
-	for k := range l {
-		l[k] = slices.Clone(l[k])
-	}
-	return chans.Chan{L: l, Closed: c.Closed}
-}
-
-// block tells n items, of which no two are alike, nor are those of two blocks that begin at numbers far from each other.
-func block(n, from int) []int {
-	l := make([]int, n)
-	for k := range l {
-		l[k] = from + k
-	}
-	return l
-}
-
 // lengths: those of what is a block, of what is none, and of what would be one once its length is cut down to fewer bits.
 var lengths = []int{0, 1, 2, 5, 7, 8, 9, 16, 17, 255, 256, 257, 264, 1<<16 + 3}
 
 // few: lengths at the bounds.
 var few = []int{0, 1, 8, 9}
 
-// blocks tells blocks of some lengths.
-func blocks(lengths ...int) [][]int {
-	var l [][]int
-	for k, n := range lengths {
-		l = append(l, block(n, 1000*k))
-	}
-	return l
-}
-
 // all ranges over channels of few blocks of some lengths, and of more blocks of lengths at the bounds, each open and closed.
 func all() iter.Seq[chans.Chan] {
 	return func(yield func(chans.Chan) bool) {
 		for _, of := range []iter.Seq[[]int]{sample.Lists(lengths[:13], 2), sample.Lists(few, 4), sample.Lists(lengths, 1)} {
 			for l := range of {
-				if !yield(chans.Chan{L: blocks(l...)}) || !yield(chans.Chan{L: blocks(l...), Closed: true}) {
+				if !yield(chans.Chan{L: sample.Blocks(l...)}) || !yield(chans.Chan{L: sample.Blocks(l...), Closed: true}) {
 					return
 				}
 			}
@@ -115,7 +84,7 @@ func all() iter.Seq[chans.Chan] {
 func given() []chans.Chan {
 	var l []chans.Chan
 	for _, of := range [][]int{nil, {1}, {8}, {1, 2}, {8, 8}, {8, 1}, {0}, {9}, {3, 0}, {9, 2}, {1, 1, 1}, {8, 8, 8, 8}} {
-		l = append(l, chans.Chan{L: blocks(of...)}, chans.Chan{L: blocks(of...), Closed: true})
+		l = append(l, chans.Chan{L: sample.Blocks(of...)}, chans.Chan{L: sample.Blocks(of...), Closed: true})
 	}
 	return l
 }
@@ -124,7 +93,7 @@ func given() []chans.Chan {
 func checkPut(t *testing.T, c chans.Chan, b []int) {
 	t.Helper()
 	next, done := chans.Put(c, b)
-	if want, wantDone := wantPut(c, b); !equal(next, want) || done != wantDone {
+	if want, wantDone := wantPut(c, b); !sample.SameChan(next, want) || done != wantDone {
 		t.Fatalf("Put(%v, %v) = %v, %v; want %v, %v", c, b, next, done, want, wantDone)
 	}
 }
@@ -136,10 +105,10 @@ func check(t *testing.T, c chans.Chan) {
 		t.Fatalf("Sane(%v) = %v; want %v", c, sane, want)
 	}
 	left, b, done := chans.Take(c)
-	if wantLeft, want, wantDone := wantTake(c); !equal(left, wantLeft) || !slices.Equal(b, want) || done != wantDone {
+	if wantLeft, want, wantDone := wantTake(c); !sample.SameChan(left, wantLeft) || !slices.Equal(b, want) || done != wantDone {
 		t.Fatalf("Take(%v) = %v, %v, %v; want %v, %v, %v", c, left, b, done, wantLeft, want, wantDone)
 	}
-	if closed, want := chans.Close(c), wantClose(c); !equal(closed, want) {
+	if closed, want := chans.Close(c), wantClose(c); !sample.SameChan(closed, want) {
 		t.Fatalf("Close(%v) = %v; want %v", c, closed, want)
 	}
 	if spent, want := chans.Spent(c), wantSpent(c); spent != want {
@@ -185,7 +154,7 @@ func TestEveryChannel(t *testing.T) {
 	for c := range all() {
 		check(t, c)
 		for _, n := range few {
-			checkPut(t, c, block(n, 5000))
+			checkPut(t, c, sample.Block(n, 5000))
 		}
 	}
 }
@@ -196,16 +165,16 @@ func TestInsaneChannels(t *testing.T) {
 		if chans.Sane(c) {
 			continue
 		}
-		if left, b, done := chans.Take(c); !equal(left, chans.Chan{}) || len(b) > 0 || done {
+		if left, b, done := chans.Take(c); !sample.SameChan(left, chans.Chan{}) || len(b) > 0 || done {
 			t.Fatalf("Take(%v) = %v, %v, %v", c, left, b, done)
 		}
-		if next, done := chans.Put(c, []int{7}); !equal(next, chans.Chan{L: [][]int{{7}}}) || !done {
+		if next, done := chans.Put(c, []int{7}); !sample.SameChan(next, chans.Chan{L: [][]int{{7}}}) || !done {
 			t.Fatalf("Put(%v, 7) = %v, %v", c, next, done)
 		}
-		if next, done := chans.Put(c, nil); !equal(next, chans.Chan{}) || done {
+		if next, done := chans.Put(c, nil); !sample.SameChan(next, chans.Chan{}) || done {
 			t.Fatalf("Put(%v, nil) = %v, %v", c, next, done)
 		}
-		if closed := chans.Close(c); !equal(closed, chans.Chan{Closed: true}) || chans.Spent(c) || chans.Count(c) != 0 {
+		if closed := chans.Close(c); !sample.SameChan(closed, chans.Chan{Closed: true}) || chans.Spent(c) || chans.Count(c) != 0 {
 			t.Fatalf("%v is not taken for nothing", c)
 		}
 	}
@@ -221,7 +190,7 @@ func TestExample(t *testing.T) {
 		t.Errorf("put were %v, %v, %v; want the first two", first, second, third)
 	}
 	left, b, done := chans.Take(c)
-	if !slices.Equal(b, []int{1, 2}) || !done || !equal(left, chans.Chan{L: [][]int{{3}}}) {
+	if !slices.Equal(b, []int{1, 2}) || !done || !sample.SameChan(left, chans.Chan{L: [][]int{{3}}}) {
 		t.Errorf("Take(%v) = %v, %v, %v; want 3 left, and 1 2", c, left, b, done)
 	}
 }
@@ -259,7 +228,7 @@ func TestPutByHand(t *testing.T) {
 		{open([]int{1}, []int{2}, []int{3}), eight, open(eight), true},
 		{closed([]int{1}, []int{2}, []int{3}), []int{}, open(), false},
 	} {
-		if next, done := chans.Put(x.c, x.b); !equal(next, x.next) || done != x.done {
+		if next, done := chans.Put(x.c, x.b); !sample.SameChan(next, x.next) || done != x.done {
 			t.Errorf("%d: Put(%v, %v) = %v, %v; want %v, %v", k, x.c, x.b, next, done, x.next, x.done)
 		}
 	}
@@ -268,10 +237,10 @@ func TestPutByHand(t *testing.T) {
 func TestPutOfLengths(t *testing.T) {
 	for _, c := range given() {
 		for n := range 300 {
-			checkPut(t, c, block(n, 5000))
+			checkPut(t, c, sample.Block(n, 5000))
 		}
 		for _, n := range lengths {
-			checkPut(t, c, block(n, 5000))
+			checkPut(t, c, sample.Block(n, 5000))
 		}
 	}
 }
@@ -292,7 +261,7 @@ func TestTakeByHand(t *testing.T) {
 		for _, closed := range []bool{false, true} {
 			c := chans.Chan{L: x.l, Closed: closed}
 			left, b, done := chans.Take(c)
-			if want := (chans.Chan{L: x.left, Closed: closed}); !equal(left, want) || !slices.Equal(b, x.b) || done != x.done {
+			if want := (chans.Chan{L: x.left, Closed: closed}); !sample.SameChan(left, want) || !slices.Equal(b, x.b) || done != x.done {
 				t.Errorf("%d: Take(%v) = %v, %v, %v; want %v, %v, %v", k, c, left, b, done, want, x.b, x.done)
 			}
 		}
@@ -327,13 +296,13 @@ func TestCloseByHand(t *testing.T) {
 		{chans.Chan{L: [][]int{{5, 6, 7}}, Closed: true}, [][]int{{5, 6, 7}}, false, 3},
 		{chans.Chan{L: [][]int{{5, 6, 7}, {8}}}, [][]int{{5, 6, 7}, {8}}, false, 4},
 		{chans.Chan{L: [][]int{{5, 6, 7}, {8}}, Closed: true}, [][]int{{5, 6, 7}, {8}}, false, 4},
-		{chans.Chan{L: blocks(8, 8)}, blocks(8, 8), false, 16},
-		{chans.Chan{L: blocks(8, 9)}, nil, false, 0},
-		{chans.Chan{L: blocks(8, 9), Closed: true}, nil, false, 0},
-		{chans.Chan{L: blocks(1, 1, 1), Closed: true}, nil, false, 0},
+		{chans.Chan{L: sample.Blocks(8, 8)}, sample.Blocks(8, 8), false, 16},
+		{chans.Chan{L: sample.Blocks(8, 9)}, nil, false, 0},
+		{chans.Chan{L: sample.Blocks(8, 9), Closed: true}, nil, false, 0},
+		{chans.Chan{L: sample.Blocks(1, 1, 1), Closed: true}, nil, false, 0},
 		{chans.Chan{L: [][]int{{}}, Closed: true}, nil, false, 0},
 	} {
-		if closed, want := chans.Close(x.c), (chans.Chan{L: x.l, Closed: true}); !equal(closed, want) {
+		if closed, want := chans.Close(x.c), (chans.Chan{L: x.l, Closed: true}); !sample.SameChan(closed, want) {
 			t.Errorf("%d: Close(%v) = %v; want %v", k, x.c, closed, want)
 		}
 		if spent := chans.Spent(x.c); spent != x.spent {
@@ -356,13 +325,13 @@ type act func(t *testing.T, c chans.Chan, l [][]int, closed bool) (chans.Chan, [
 func put(n, from int) act {
 	return func(t *testing.T, c chans.Chan, l [][]int, closed bool) (chans.Chan, [][]int, bool) {
 		t.Helper()
-		b := block(n, from)
+		b := sample.Block(n, from)
 		next, done := chans.Put(c, b)
 		if want := n > 0 && n < 9 && len(l) < 2 && !closed; done != want {
 			t.Fatalf("Put(%v, %v) is done: %v", c, b, done)
 		}
 		if done {
-			l = append(slices.Clip(l), block(n, from))
+			l = append(slices.Clip(l), sample.Block(n, from))
 		}
 		return next, l, closed
 	}
@@ -392,7 +361,7 @@ func run(t *testing.T, acts []act) {
 	closed := false
 	for k, do := range acts {
 		c, l, closed = do(t, c, l, closed)
-		if want := (chans.Chan{L: l, Closed: closed}); !equal(c, want) {
+		if want := (chans.Chan{L: l, Closed: closed}); !sample.SameChan(c, want) {
 			t.Fatalf("behind %d acts there is %v; want %v", k+1, c, want)
 		}
 		if n := chans.Count(c); !chans.Sane(c) || n > 16 || n != len(slices.Concat(l...)) || chans.Spent(c) != (closed && len(l) == 0) {
@@ -425,9 +394,9 @@ func TestManyBlocks(t *testing.T) {
 func TestGreatLists(t *testing.T) {
 	check(t, chans.Chan{L: make([][]int, 1<<20), Closed: true})
 	check(t, chans.Chan{L: slices.Repeat([][]int{{1}}, 1<<20)})
-	check(t, chans.Chan{L: blocks(1<<20, 3)})
+	check(t, chans.Chan{L: sample.Blocks(1<<20, 3)})
 	for _, c := range given() {
-		if next, done := chans.Put(c, block(1<<20, 0)); done || !equal(next, wantKnown(c)) {
+		if next, done := chans.Put(c, sample.Block(1<<20, 0)); done || !sample.SameChan(next, wantKnown(c)) {
 			t.Errorf("a million items are put in %v: %v, %v", c, next, done)
 		}
 	}
@@ -442,7 +411,7 @@ func spared(c chans.Chan) (chans.Chan, [][]int) {
 		whole[k] = slices.Concat(b, sample.Row(20))[:len(b)]
 	}
 	for k := range 5 {
-		whole = append(whole, block(3, -10*k))
+		whole = append(whole, sample.Block(3, -10*k))
 	}
 	return chans.Chan{L: whole[:len(c.L)], Closed: c.Closed}, whole
 }
@@ -463,7 +432,7 @@ func scratch(lists ...[][]int) {
 func checkSpared(t *testing.T, c chans.Chan, whole [][]int) {
 	t.Helper()
 	for k, b := range whole {
-		want, behind := block(3, -10*(k-len(c.L))), []int(nil)
+		want, behind := sample.Block(3, -10*(k-len(c.L))), []int(nil)
 		if k < len(c.L) {
 			want, behind = c.L[k], sample.Row(20)
 		}
@@ -477,7 +446,7 @@ func TestAnswersApart(t *testing.T) {
 	for _, was := range given() {
 		for n := range 10 {
 			c, whole := spared(was)
-			b := slices.Concat(block(n, 500), sample.Row(20))
+			b := slices.Concat(sample.Block(n, 500), sample.Row(20))
 			first, _ := chans.Put(c, b[:n])
 			second, done := chans.Put(c, b[:n])
 			left, taken, _ := chans.Take(c)
@@ -485,16 +454,16 @@ func TestAnswersApart(t *testing.T) {
 			closed := chans.Close(c)
 			again := chans.Close(c)
 			scratch(first.L, left.L, [][]int{taken}, closed.L)
-			if want, wantDone := wantPut(was, block(n, 500)); !equal(second, want) || done != wantDone {
+			if want, wantDone := wantPut(was, sample.Block(n, 500)); !sample.SameChan(second, want) || done != wantDone {
 				t.Fatalf("who changed other answers made of Put(%v) of %d items %v, %v; want %v, %v", was, n, second, done, want, wantDone)
 			}
-			if want, wantMore, wantDone := wantTake(was); !equal(last, want) || !slices.Equal(more, wantMore) || hasMore != wantDone {
+			if want, wantMore, wantDone := wantTake(was); !sample.SameChan(last, want) || !slices.Equal(more, wantMore) || hasMore != wantDone {
 				t.Fatalf("who changed other answers made of Take(%v) %v, %v, %v; want %v, %v, %v", was, last, more, hasMore, want, wantMore, wantDone)
 			}
-			if want := wantClose(was); !equal(again, want) {
+			if want := wantClose(was); !sample.SameChan(again, want) {
 				t.Fatalf("who changed other answers made of Close(%v) %v; want %v", was, again, want)
 			}
-			if !slices.Equal(b, slices.Concat(block(n, 500), sample.Row(20))) {
+			if !slices.Equal(b, slices.Concat(sample.Block(n, 500), sample.Row(20))) {
 				t.Fatalf("Put(%v), or who changed its answer, made of the block %v", was, b)
 			}
 			checkSpared(t, was, whole)
@@ -511,13 +480,13 @@ func TestArgumentsApart(t *testing.T) {
 		left, taken, has := chans.Take(c)
 		closed := chans.Close(c)
 		scratch([][]int{b}, whole)
-		if want, wantDone := wantPut(was, []int{5, 6, 7}); !equal(next, want) || done != wantDone {
+		if want, wantDone := wantPut(was, []int{5, 6, 7}); !sample.SameChan(next, want) || done != wantDone {
 			t.Errorf("who changed what was handed in made of Put(%v) %v, %v; want %v, %v", was, next, done, want, wantDone)
 		}
-		if want, wantTaken, wantHas := wantTake(was); !equal(left, want) || !slices.Equal(taken, wantTaken) || has != wantHas {
+		if want, wantTaken, wantHas := wantTake(was); !sample.SameChan(left, want) || !slices.Equal(taken, wantTaken) || has != wantHas {
 			t.Errorf("who changed what was handed in made of Take(%v) %v, %v, %v; want %v, %v, %v", was, left, taken, has, want, wantTaken, wantHas)
 		}
-		if want := wantClose(was); !equal(closed, want) {
+		if want := wantClose(was); !sample.SameChan(closed, want) {
 			t.Errorf("who changed what was handed in made of Close(%v) %v; want %v", was, closed, want)
 		}
 	}
@@ -525,12 +494,12 @@ func TestArgumentsApart(t *testing.T) {
 
 // No two lists of one answer share memory, be it that those handed in do.
 func TestListsOfOneAnswerApart(t *testing.T) {
-	l := block(8, 0)
+	l := sample.Block(8, 0)
 	for _, c := range []chans.Chan{{L: [][]int{l, l}}, {L: [][]int{l[:4], l[4:]}}, {L: [][]int{l[:4], l[2:5]}, Closed: true}} {
-		want := cloned(c)
+		want := sample.CopyChan(c)
 		left, taken, _ := chans.Take(c)
 		scratch([][]int{taken})
-		if !equal(left, chans.Chan{L: want.L[1:], Closed: c.Closed}) {
+		if !sample.SameChan(left, chans.Chan{L: want.L[1:], Closed: c.Closed}) {
 			t.Errorf("who changed what was taken of %v left %v", want, left)
 		}
 		closed := chans.Close(c)
@@ -541,7 +510,7 @@ func TestListsOfOneAnswerApart(t *testing.T) {
 	}
 	next, _ := chans.Put(chans.Chan{L: [][]int{l}}, l)
 	scratch([][]int{next.L[0]})
-	if want := block(8, 0); !slices.Equal(next.L[1], want) || !slices.Equal(l, want) {
+	if want := sample.Block(8, 0); !slices.Equal(next.L[1], want) || !slices.Equal(l, want) {
 		t.Errorf("who changed the first block made of the second one %v, and of what was handed in %v", next.L[1], l)
 	}
 }
@@ -555,7 +524,7 @@ func TestTwoGoOn(t *testing.T) {
 			first, _ := chans.Put(c, []int{3})
 			second, _ := chans.Put(c, []int{4, 5})
 			_, _ = chans.Put(second, []int{6})
-			if !equal(first, chans.Chan{L: slices.Concat(was.L, [][]int{{3}})}) || !equal(second, chans.Chan{L: slices.Concat(was.L, [][]int{{4, 5}})}) || !equal(c, was) {
+			if !sample.SameChan(first, chans.Chan{L: slices.Concat(was.L, [][]int{{3}})}) || !sample.SameChan(second, chans.Chan{L: slices.Concat(was.L, [][]int{{4, 5}})}) || !sample.SameChan(c, was) {
 				t.Errorf("of %v, behind which 3 was put, and 4 5, came %v, and %v", was, first, second)
 			}
 			c, _, _ = chans.Take(chans.Chan{L: slices.Concat([][]int{{9}}, was.L)})
@@ -575,13 +544,13 @@ func TestCallsAtOnce(t *testing.T) {
 	for range 8 {
 		all.Go(func() {
 			for n := range 200 {
-				b := block(n%12, n)
+				b := sample.Block(n%12, n)
 				for _, c := range shared {
 					next, done := chans.Put(c, b)
 					left, taken, has := chans.Take(c)
 					want, wantDone := wantPut(c, b)
 					wantLeft, wantTaken, wantHas := wantTake(c)
-					if !equal(next, want) || done != wantDone || !equal(left, wantLeft) || !slices.Equal(taken, wantTaken) || has != wantHas || !equal(chans.Close(c), wantClose(c)) {
+					if !sample.SameChan(next, want) || done != wantDone || !sample.SameChan(left, wantLeft) || !slices.Equal(taken, wantTaken) || has != wantHas || !sample.SameChan(chans.Close(c), wantClose(c)) {
 						t.Errorf("of %v and %v came %v, %v, and %v, %v, %v", c, b, next, done, left, taken, has)
 						return
 					}

@@ -30,16 +30,10 @@ var odd = append(sample.Bad(), 0x100, 0x141, 0x1E2, -0xBF, -0x100, 1<<32-1, 1<<3
 // edges: bytes of forms of each length, first ones and later ones, and those that are in no form.
 var edges = []byte{0, 'E', 0x81, 0x9F, 0xA9, 0xC3, 0xCC, 0xE2, 0xED, 0xF0, 0xF4, 0xFF}
 
-// kinds: each machine's number.
-var kinds = []int{0, 1, 2, 3, 4}
-
-// noKinds: numbers of no machine; some would be one's once they are cut down to fewer bits.
-var noKinds = []int{-1, -2, 5, 6, 9, 256, 257, 1 << 16, 1<<16 + 4, 1 << 32, 1<<32 + 1, 1<<32 + 4, -1 << 32, -1<<32 + 3, math.MaxInt, math.MinInt, math.MinInt + 2}
-
 // What the layers below tell is asked of them; what is made of it is told anew here, as near to the document's words as may be.
 
 func wantNew(kind int) mach.State {
-	if slices.Contains(kinds, kind) {
+	if slices.Contains(sample.Machines(), kind) {
 		return mach.State{Kind: kind}
 	}
 	return mach.State{}
@@ -85,7 +79,7 @@ func wantFeed(s mach.State, x int) (mach.State, []int) {
 	case 4:
 		switch {
 		case x == -1:
-			told = numbers(frame.Put(s.C))
+			told = sample.Items(frame.Put(s.C))
 			s.C = nil
 		case len(s.C) < 32:
 			s.C = slices.Concat(s.C, []int{x})
@@ -137,7 +131,7 @@ func wantAll(kind int, l []int) []int {
 	case 4:
 		parts := cutAt(l)
 		for _, c := range parts[:len(parts)-1] {
-			all = append(all, numbers(frame.Put(c[:min(len(c), 32)]))...)
+			all = append(all, sample.Items(frame.Put(c[:min(len(c), 32)]))...)
 		}
 		return all
 	}
@@ -161,27 +155,8 @@ func cutAt(l []int) [][]int {
 	return append(parts, l[from:])
 }
 
-// numbers tells bytes as items.
-func numbers(b []byte) []int {
-	var l []int
-	for _, c := range b {
-		l = append(l, int(c))
-	}
-	return l
-}
-
 // text tells the text of values.
 func text(l ...int) []byte { return []byte(dec.Text(l)) }
-
-func equal(s, other mach.State) bool {
-	return s.Kind == other.Kind && s.D == other.D && slices.Equal(s.N.L, other.N.L) && slices.Equal(s.G.C, other.G.C) && s.G.S == other.G.S && slices.Equal(s.C, other.C)
-}
-
-// cloned tells a State in memory of its own.
-func cloned(s mach.State) mach.State {
-	s.N.L, s.G.C, s.C = slices.Clone(s.N.L), slices.Clone(s.G.C), slices.Clone(s.C)
-	return s
-}
 
 // checkState holds the calls that are handed a State, at one.
 func checkState(t *testing.T, s mach.State, items ...int) {
@@ -193,12 +168,12 @@ func checkState(t *testing.T, s mach.State, items ...int) {
 		t.Fatalf("Cost(%+v) = %d; want %d", s, cost, want)
 	}
 	left, told := mach.End(s)
-	if wantLeft, want := wantEnd(s); !equal(left, wantLeft) || !slices.Equal(told, want) {
+	if wantLeft, want := wantEnd(s); !sample.SameMachine(left, wantLeft) || !slices.Equal(told, want) {
 		t.Fatalf("End(%+v) = %+v, %#x; want %+v, %#x", s, left, told, wantLeft, want)
 	}
 	for _, x := range items {
 		next, told := mach.Feed(s, x)
-		if wantNext, want := wantFeed(s, x); !equal(next, wantNext) || !slices.Equal(told, want) {
+		if wantNext, want := wantFeed(s, x); !sample.SameMachine(next, wantNext) || !slices.Equal(told, want) {
 			t.Fatalf("Feed(%+v, %#x) = %+v, %#x; want %+v, %#x", s, x, next, told, wantNext, want)
 		}
 		if !mach.Sane(next) || mach.Cost(next) > 32 {
@@ -270,14 +245,6 @@ func states(kinds []int) iter.Seq[mach.State] {
 	}
 }
 
-// begun tells States at which something came, one of each kind at least.
-func begun() []mach.State {
-	return []mach.State{
-		{Kind: 0, D: dec.State{B: "\xe2\x82"}}, {Kind: 1, N: norm.State{L: []int{'e', 0x323}}}, {Kind: 2, N: norm.State{L: []int{'e', 0x323}}},
-		{Kind: 3, G: seg.State{C: []int{'e', 0x301}, S: sample.ClusState("oe")}}, {Kind: 4, C: []int{'e', 0x301}},
-	}
-}
-
 // P15.1
 
 func TestNumbers(t *testing.T) {
@@ -287,13 +254,13 @@ func TestNumbers(t *testing.T) {
 }
 
 func TestNew(t *testing.T) {
-	for _, kind := range kinds {
-		if s := mach.New(kind); !equal(s, mach.State{Kind: kind}) || !mach.Sane(s) {
+	for _, kind := range sample.Machines() {
+		if s := mach.New(kind); !sample.SameMachine(s, mach.State{Kind: kind}) || !mach.Sane(s) {
 			t.Errorf("New(%d) = %+v", kind, s)
 		}
 	}
-	for _, kind := range noKinds {
-		if s := mach.New(kind); !equal(s, mach.State{}) {
+	for _, kind := range sample.NoMachines() {
+		if s := mach.New(kind); !sample.SameMachine(s, mach.State{}) {
 			t.Errorf("New(%d) = %+v", kind, s)
 		}
 	}
@@ -337,7 +304,7 @@ func TestSaneByHand(t *testing.T) {
 
 // Each choice of what a State may hold, Sane or not, of each kind, and of none.
 func TestEveryState(t *testing.T) {
-	for s := range states(slices.Concat(kinds, []int{-1, 5, 1 << 32, math.MinInt})) {
+	for s := range states(slices.Concat(sample.Machines(), []int{-1, 5, 1 << 32, math.MinInt})) {
 		checkState(t, s, 'E', 0xCC, 0x301, -1, -0xBF)
 	}
 }
@@ -364,10 +331,10 @@ func TestInsaneStates(t *testing.T) {
 		{mach.State{Kind: 4, C: []int{'a', -1}}, 'b', mach.State{Kind: 4, C: []int{'b'}}, nil},
 		{mach.State{Kind: 4, C: []int{'a'}, G: seg.State{S: sample.ClusState("o")}}, -1, mach.State{Kind: 4}, nil},
 	} {
-		if next, told := mach.Feed(x.s, x.x); !equal(next, x.next) || !slices.Equal(told, x.told) {
+		if next, told := mach.Feed(x.s, x.x); !sample.SameMachine(next, x.next) || !slices.Equal(told, x.told) {
 			t.Errorf("Feed(%+v, %#x) = %+v, %#x; want %+v, %#x", x.s, x.x, next, told, x.next, x.told)
 		}
-		if left, told := mach.End(x.s); !equal(left, wantNew(x.s.Kind)) || len(told) > 0 {
+		if left, told := mach.End(x.s); !sample.SameMachine(left, wantNew(x.s.Kind)) || len(told) > 0 {
 			t.Errorf("End(%+v) = %+v, %#x", x.s, left, told)
 		}
 		if cost := mach.Cost(x.s); cost != 0 {
@@ -438,7 +405,7 @@ func TestFeedByHand(t *testing.T) {
 		{mach.State{Kind: 4, C: full}, -1, mach.State{Kind: 4}, append([]int{64}, slices.Repeat([]int{0xCC, 0x81}, 32)...)},
 		{mach.State{Kind: 4, C: slices.Repeat([]int{0x1F3FD}, 32)}, -1, mach.State{Kind: 4}, append([]int{0x80, 1}, slices.Repeat([]int{0xF0, 0x9F, 0x8F, 0xBD}, 32)...)},
 	} {
-		if next, told := mach.Feed(x.s, x.x); !equal(next, x.next) || !slices.Equal(told, x.told) {
+		if next, told := mach.Feed(x.s, x.x); !sample.SameMachine(next, x.next) || !slices.Equal(told, x.told) {
 			t.Errorf("Feed(%+v, %#x) = %+v, %#x; want %+v, %#x", x.s, x.x, next, told, x.next, x.told)
 		}
 		checkState(t, x.s, x.x)
@@ -447,8 +414,8 @@ func TestFeedByHand(t *testing.T) {
 
 // Every value, and many numbers beside them, as an item of each machine, at its beginning, behind something, and behind as much as may be.
 func TestEveryNumber(t *testing.T) {
-	all := append(begun(), mach.State{Kind: 4, C: sample.Row(32)}, mach.State{Kind: 4, C: sample.Row(33)})
-	for _, kind := range kinds {
+	all := append(sample.Begun(), mach.State{Kind: 4, C: sample.Row(32)}, mach.State{Kind: 4, C: sample.Row(33)})
+	for _, kind := range sample.Machines() {
 		all = append(all, mach.New(kind))
 	}
 	for x := range sample.Numbers() {
@@ -481,7 +448,7 @@ func TestEndByHand(t *testing.T) {
 		{mach.State{Kind: 5, D: dec.State{B: "\xe2"}}, nil, 0}, {mach.State{Kind: 4, C: sample.Row(33)}, nil, 0}, {mach.State{Kind: 3, C: []int{'a'}}, nil, 0}, {mach.State{Kind: 1, N: norm.State{L: []int{'a', 'b'}}}, nil, 0},
 	} {
 		left, told := mach.End(x.s)
-		if !equal(left, wantNew(x.s.Kind)) || !slices.Equal(told, x.told) {
+		if !sample.SameMachine(left, wantNew(x.s.Kind)) || !slices.Equal(told, x.told) {
 			t.Errorf("End(%+v) = %+v, %#x; want %#x", x.s, left, told, x.told)
 		}
 		if cost := mach.Cost(x.s); cost != x.cost {
@@ -508,7 +475,7 @@ func TestAllByHand(t *testing.T) {
 		}
 		check(t, x.kind, x.l)
 	}
-	for _, kind := range slices.Concat(kinds, noKinds) {
+	for _, kind := range slices.Concat(sample.Machines(), sample.NoMachines()) {
 		if len(mach.All(kind, nil)) > 0 || len(mach.All(kind, []int{})) > 0 {
 			t.Errorf("All(%d) of none tells something", kind)
 		}
@@ -516,15 +483,15 @@ func TestAllByHand(t *testing.T) {
 }
 
 func TestShortLists(t *testing.T) {
-	for _, kind := range kinds {
-		for _, lists := range []iter.Seq[[]int]{sample.Lists(append(some, -1, -2), 3), sample.Lists(numbers(edges), 4), sample.Lists([]int{'E', 0x301, -1}, 6), sample.Lists(odd, 2)} {
+	for _, kind := range sample.Machines() {
+		for _, lists := range []iter.Seq[[]int]{sample.Lists(append(some, -1, -2), 3), sample.Lists(sample.Items(edges), 4), sample.Lists([]int{'E', 0x301, -1}, 6), sample.Lists(odd, 2)} {
 			for l := range lists {
 				check(t, kind, l)
 			}
 		}
 	}
-	for _, kind := range noKinds {
-		for l := range sample.Lists(numbers(edges), 2) {
+	for _, kind := range sample.NoMachines() {
+		for l := range sample.Lists(sample.Items(edges), 2) {
 			check(t, kind, l)
 		}
 	}
@@ -532,7 +499,7 @@ func TestShortLists(t *testing.T) {
 
 func TestHardLists(t *testing.T) {
 	for l := range sample.Hard() {
-		for _, kind := range kinds {
+		for _, kind := range sample.Machines() {
 			checkAll(t, kind, l)
 		}
 	}
@@ -540,7 +507,7 @@ func TestHardLists(t *testing.T) {
 
 // Of the lengths beside those at which something is cut.
 func TestLengths(t *testing.T) {
-	for _, kind := range kinds {
+	for _, kind := range sample.Machines() {
 		for _, x := range some {
 			for n := range 70 {
 				l := slices.Repeat([]int{x}, n)
@@ -554,14 +521,14 @@ func TestLengths(t *testing.T) {
 
 // What is told hangs on no more of what came than the State tells, which may be copied anywhere; and behind the end a machine is new.
 func TestGoingOn(t *testing.T) {
-	l := slices.Concat(numbers(text('E', 0x301, 0xDF, 0x1F600)), some, sample.Row(40), []int{mach.Cut, 'a', mach.Cut}, some)
-	for _, kind := range kinds {
+	l := slices.Concat(sample.Items(text('E', 0x301, 0xDF, 0x1F600)), some, sample.Row(40), []int{mach.Cut, 'a', mach.Cut}, some)
+	for _, kind := range sample.Machines() {
 		for k := range l {
 			s := mach.New(kind)
 			var told []int
 			for n, x := range l {
 				if n == k {
-					s = cloned(s)
+					s = sample.CopyMachine(s)
 				}
 				var more []int
 				s, more = mach.Feed(s, x)
@@ -581,8 +548,8 @@ func TestGoingOn(t *testing.T) {
 // checkPipe holds that all of all five, one behind the other, and what five tell that are handed each item as soon as it is told, is F; what was told is a beginning of it at each step, and none keeps too much.
 func checkPipe(t *testing.T, b []byte) {
 	t.Helper()
-	f, all := numbers(flow.F(b)), numbers(b)
-	for _, kind := range kinds {
+	f, all := sample.Items(flow.F(b)), sample.Items(b)
+	for _, kind := range sample.Machines() {
 		all = mach.All(kind, all)
 	}
 	if !slices.Equal(all, f) {
@@ -593,7 +560,7 @@ func checkPipe(t *testing.T, b []byte) {
 		r.feed(0, int(c))
 		r.check(t, f)
 	}
-	for kind := range kinds {
+	for kind := range sample.Machines() {
 		r.end(kind)
 		r.check(t, f)
 	}
@@ -610,7 +577,7 @@ type row struct {
 
 func newRow() *row {
 	r := &row{}
-	for _, kind := range kinds {
+	for _, kind := range sample.Machines() {
 		r.machines = append(r.machines, mach.New(kind))
 	}
 	return r
@@ -657,18 +624,18 @@ func TestPipeByHand(t *testing.T) {
 		{"Q" + strings.Repeat("\u0301", 31), "\x3fq" + strings.Repeat("\u0301", 30) + "\u034f\x02\u0301"},
 	} {
 		r := newRow()
-		r.hand(0, numbers([]byte(x.b)))
-		for kind := range kinds {
+		r.hand(0, sample.Items([]byte(x.b)))
+		for kind := range sample.Machines() {
 			r.end(kind)
 		}
-		if want := numbers([]byte(x.f)); !slices.Equal(r.told, want) {
+		if want := sample.Items([]byte(x.f)); !slices.Equal(r.told, want) {
 			t.Errorf("of %+q five machines told % x; want % x", x.b, r.told, want)
 		}
 		checkPipe(t, []byte(x.b))
 	}
 	// Without the end nothing is told of what may still be changed.
 	r := newRow()
-	r.hand(0, numbers([]byte("AB")))
+	r.hand(0, sample.Items([]byte("AB")))
 	if len(r.told) > 0 {
 		t.Errorf("of AB, and no end, was told % x", r.told)
 	}
@@ -698,7 +665,7 @@ func TestPipe(t *testing.T) {
 
 // No more is kept of many items than of few, and each machine ends as soon, for their number.
 func TestGreatLists(t *testing.T) {
-	for _, kind := range kinds {
+	for _, kind := range sample.Machines() {
 		for _, few := range [][]int{{'E'}, {0xE2, 0x82, 0xAC}, {0xE2}, {'E', 0x301}, {0x301}, {0x1F1E9}, {'a', mach.Cut}, {mach.Cut}, {0x600}} {
 			l := slices.Repeat(few, 1<<13)
 			checkAll(t, kind, l)
@@ -717,7 +684,7 @@ func TestGreatLists(t *testing.T) {
 
 // Nothing is kept: who changes an answer changes no other one, nor what was handed in, nor what stands behind this in its memory.
 func TestAnswersApart(t *testing.T) {
-	for _, given := range append(begun(), mach.State{Kind: 4, C: sample.Row(32)}, mach.State{Kind: 9, C: sample.Row(3)}) {
+	for _, given := range append(sample.Begun(), mach.State{Kind: 4, C: sample.Row(32)}, mach.State{Kind: 9, C: sample.Row(3)}) {
 		spares := [][]int{slices.Concat(given.N.L, sample.Row(40)), slices.Concat(given.G.C, sample.Row(40)), slices.Concat(given.C, sample.Row(40))}
 		s := given
 		s.N.L, s.G.C, s.C = spares[0][:len(given.N.L)], spares[1][:len(given.G.C)], spares[2][:len(given.C)]
@@ -728,7 +695,7 @@ func TestAnswersApart(t *testing.T) {
 			for _, l := range [][]int{first.N.L, first.G.C, first.C, told, third.N.L, third.G.C, third.C, last} {
 				clear(l[:cap(l)])
 			}
-			if want, wantTold := wantFeed(given, x); !equal(second, want) || !slices.Equal(more, wantTold) {
+			if want, wantTold := wantFeed(given, x); !sample.SameMachine(second, want) || !slices.Equal(more, wantTold) {
 				t.Fatalf("who changed an answer of Feed(%+v, %#x) made of another one %+v, %#x; want %+v, %#x", given, x, second, more, want, wantTold)
 			}
 			checkState(t, s, x)
@@ -743,20 +710,20 @@ func TestAnswersApart(t *testing.T) {
 
 // Two that go on from one State do not go on in one memory, whatever room stands behind its items.
 func TestTwoGoOn(t *testing.T) {
-	for _, kind := range kinds {
+	for _, kind := range sample.Machines() {
 		for n := range 34 {
 			s := mach.New(kind)
 			for _, x := range sample.Row(n) {
 				s, _ = mach.Feed(s, x)
 			}
-			was := cloned(s)
+			was := sample.CopyMachine(s)
 			first, _ := mach.Feed(s, 0x302)
 			second, _ := mach.Feed(s, 0x303)
 			third, _ := mach.Feed(second, 0x304)
 			for _, l := range [][]int{second.N.L, second.G.C, second.C, third.N.L, third.G.C, third.C} {
 				clear(l[:cap(l)])
 			}
-			if want, _ := wantFeed(was, 0x302); !equal(first, want) || !equal(s, was) {
+			if want, _ := wantFeed(was, 0x302); !sample.SameMachine(first, want) || !sample.SameMachine(s, was) {
 				t.Errorf("behind %d items machine %d, from %+v, is at %+v; want %+v, from %+v", n, kind, s, first, want, was)
 			}
 		}
@@ -766,7 +733,7 @@ func TestTwoGoOn(t *testing.T) {
 // What was handed in as a list of items is not changed either.
 func TestListsStay(t *testing.T) {
 	whole := slices.Concat(some, odd, sample.Row(40), []int{mach.Cut})
-	for _, kind := range slices.Concat(kinds, noKinds) {
+	for _, kind := range slices.Concat(sample.Machines(), sample.NoMachines()) {
 		spare := slices.Clone(whole)
 		for k := range spare {
 			told := mach.All(kind, spare[:k])
@@ -780,18 +747,18 @@ func TestListsStay(t *testing.T) {
 
 // The calls of several that go at once are as those of one, and the wrong ones leave nothing behind.
 func TestCallsAtOnce(t *testing.T) {
-	given := begun()
+	given := sample.Begun()
 	var all sync.WaitGroup
 	for range 8 {
 		all.Go(func() {
 			for _, x := range slices.Concat(odd, odd) {
-				for _, kind := range noKinds {
+				for _, kind := range sample.NoMachines() {
 					mach.All(kind, odd)
 					mach.Feed(mach.State{Kind: kind, C: sample.Row(33)}, x)
 				}
 				for _, s := range given {
 					next, told := mach.Feed(s, x)
-					if want, wantTold := wantFeed(s, x); !equal(next, want) || !slices.Equal(told, wantTold) {
+					if want, wantTold := wantFeed(s, x); !sample.SameMachine(next, want) || !slices.Equal(told, wantTold) {
 						t.Errorf("Feed(%+v, %#x) = %+v, %#x; want %+v, %#x", s, x, next, told, want, wantTold)
 						return
 					}

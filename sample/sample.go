@@ -1,4 +1,4 @@
-// Package sample holds the values, the lists of them, and the States, that the tests of several layers try; no layer calls it.
+// Package sample holds the values, the lists of them, the States, the machines and the blocks, that the tests of several layers try, and how machines and channels are held against each other; no layer calls it.
 package sample
 
 import (
